@@ -1,88 +1,20 @@
 package aead
 
 import (
-	"math"
 	"math/rand"
 	"slices"
 	"strings"
 	"testing"
 
 	"sough/api"
+	"sough/samples"
 	"sough/term"
 )
-
-// numbers are those that a Seal may have: the edges, and some between.
-var numbers = []uint64{0, 1, 2, 255, 256, 1 << 32, 1<<63 - 1, 1 << 63, math.MaxUint64 - 1, math.MaxUint64}
-
-// store is a store with room for so many, in which these terms are put.
-func store(t *testing.T, most int, l ...term.Term) *term.Store {
-	t.Helper()
-	s, err := term.New(most)
-	if err != api.OK {
-		t.Fatalf("New(%d): %d", most, err)
-	}
-	for _, x := range l {
-		put(t, s, x)
-	}
-	return s
-}
-
-// put puts a term that may be.
-func put(t *testing.T, s *term.Store, x term.Term) int {
-	t.Helper()
-	name, err := s.Put(x)
-	if err != api.OK {
-		t.Fatalf("Put(%+v) = %d, %d", x, name, err)
-	}
-	return name
-}
-
-func nonce(n uint64) term.Term { return term.Term{Kind: term.Nonce, N: n} }
 
 func text(s string) term.Term { return term.Term{Kind: term.Text, S: s} }
 
 func seal(key int, n uint64, beside, plain int) term.Term {
 	return term.Term{Kind: term.Seal, A: key, N: n, B: beside, C: plain}
-}
-
-// ofEachKind is a term of each kind, by rising kinds, that may all be in a store, put in this order: so each one's name is its kind.
-func ofEachKind() []term.Term {
-	return []term.Term{
-		text("ab"),
-		nonce(7),
-		{Kind: term.Pub, A: 2},
-		{Kind: term.Share, A: 1, B: 2},
-		{Kind: term.Kpub, A: 2},
-		{Kind: term.Box, A: 2, B: 1},
-		{Kind: term.Kem, A: 2, B: 1},
-		{Kind: term.Hash, A: 2, B: 1},
-		{Kind: term.Key, A: 2, N: 9},
-		seal(9, 3, 8, 1),
-		{Kind: term.Pair, A: 2, B: 1},
-	}
-}
-
-// noNames are numbers that are no term's name there.
-func noNames(s *term.Store) []int {
-	return []int{0, -1, -2, math.MinInt, s.Len() + 1, s.Len() + 2, api.MaxTerms + 1, math.MaxInt}
-}
-
-// all are a store's terms, in the order of their names.
-func all(s *term.Store) []term.Term {
-	var l []term.Term
-	for name := 1; name <= s.Len(); name++ {
-		x, _ := s.Get(name)
-		l = append(l, x)
-	}
-	return l
-}
-
-// with are terms with another one behind them, unless it is there, and its name.
-func with(l []term.Term, x term.Term) ([]term.Term, int) {
-	if place := slices.Index(l, x); place >= 0 {
-		return l, place + 1
-	}
-	return append(l, x), len(l) + 1
 }
 
 // call is one of the package's calls, that tells a name or a text.
@@ -111,7 +43,7 @@ func answers[T comparable](t *testing.T, why string, s *term.Store, c call[T], w
 	if got != want || err != wantErr {
 		t.Errorf("%s: told is %v, %d, not %v, %d", why, got, err, want, wantErr)
 	}
-	if left := all(s); !slices.Equal(left, after) {
+	if left := samples.All(s); !slices.Equal(left, after) {
 		t.Errorf("%s: the store has %+v, not %+v", why, left, after)
 	}
 }
@@ -119,14 +51,14 @@ func answers[T comparable](t *testing.T, why string, s *term.Store, c call[T], w
 // told looks whether a call tells this, and puts nothing.
 func told[T comparable](t *testing.T, why string, s *term.Store, c call[T], want T) {
 	t.Helper()
-	answers(t, why, s, c, want, api.OK, all(s))
+	answers(t, why, s, c, want, api.OK, samples.All(s))
 }
 
 // refused looks whether a call is refused with this error, and puts these terms alone.
 func refused[T comparable](t *testing.T, why string, s *term.Store, c call[T], want api.Errno, stays ...term.Term) {
 	t.Helper()
 	var zero T
-	answers(t, why, s, c, zero, want, append(all(s), stays...))
+	answers(t, why, s, c, zero, want, append(samples.All(s), stays...))
 }
 
 // neitherOpens looks whether Open and Read are both refused with this error, and put nothing.
@@ -139,7 +71,7 @@ func neitherOpens(t *testing.T, why string, s *term.Store, key int, n uint64, be
 // sealed is what Seal tells of terms that there are; it puts nothing but that.
 func sealed(t *testing.T, s *term.Store, key int, n uint64, beside, plain int) int {
 	t.Helper()
-	after, name := with(all(s), seal(key, n, beside, plain))
+	after, name := samples.With(samples.All(s), seal(key, n, beside, plain))
 	answers(t, "what is sealed", s, sealing(s, key, n, beside, plain), name, api.OK, after)
 	return name
 }
@@ -147,14 +79,14 @@ func sealed(t *testing.T, s *term.Store, key int, n uint64, beside, plain int) i
 // sealedText is what Text tells of a text that may be; it puts nothing but that text, and then the Seal of it.
 func sealedText(t *testing.T, s *term.Store, key int, n uint64, beside int, x string) int {
 	t.Helper()
-	after, plain := with(all(s), text(x))
-	after, name := with(after, seal(key, n, beside, plain))
+	after, plain := samples.With(samples.All(s), text(x))
+	after, name := samples.With(after, seal(key, n, beside, plain))
 	answers(t, "what is sealed of a text", s, sealingText(s, key, n, beside, x), name, api.OK, after)
 	return name
 }
 
 func TestExampleOfTheChapter(t *testing.T) {
-	s := store(t, 3, nonce(1))
+	s := samples.Store(3, samples.Nonce(1))
 	if name, err := Text(s, 1, 0, 1, "ab"); name != 3 || err != api.OK {
 		t.Errorf("Text = %d, %d", name, err)
 	}
@@ -164,8 +96,8 @@ func TestExampleOfTheChapter(t *testing.T) {
 	if got, err := Read(s, 1, 1, 1, 3); got != "" || err != api.ErrSeal {
 		t.Errorf("Read with another number = %q, %d", got, err)
 	}
-	if want := []term.Term{nonce(1), text("ab"), seal(1, 0, 1, 2)}; !slices.Equal(all(s), want) {
-		t.Errorf("the store has %+v, not %+v", all(s), want)
+	if want := []term.Term{samples.Nonce(1), text("ab"), seal(1, 0, 1, 2)}; !slices.Equal(samples.All(s), want) {
+		t.Errorf("the store has %+v, not %+v", samples.All(s), want)
 	}
 }
 
@@ -173,11 +105,11 @@ func TestExampleOfTheChapter(t *testing.T) {
 
 // TestSealAndOpenOfAllKinds: every term may be the key, stand beside, and be sealed; two or all three of them may be one.
 func TestSealAndOpenOfAllKinds(t *testing.T) {
-	l := ofEachKind()
+	l := samples.OfEachKind()
 	for key := 1; key <= len(l); key++ {
 		for beside := 1; beside <= len(l); beside++ {
 			for plain := 1; plain <= len(l); plain++ {
-				s := store(t, 20, l...)
+				s := samples.Store(20, l...)
 				name := sealed(t, s, key, 5, beside, plain)
 				if again := sealed(t, s, key, 5, beside, plain); again != name {
 					t.Errorf("of %d, %d and %d told is %d, and then %d", key, beside, plain, name, again)
@@ -189,20 +121,20 @@ func TestSealAndOpenOfAllKinds(t *testing.T) {
 }
 
 func TestSealAndOpenOfAllNumbers(t *testing.T) {
-	s := store(t, 30, nonce(1), nonce(2), nonce(3))
-	for i, n := range numbers {
+	s := samples.Store(30, samples.Nonce(1), samples.Nonce(2), samples.Nonce(3))
+	for i, n := range samples.Numbers() {
 		if name := sealed(t, s, 1, n, 2, 3); name != 4+i {
 			t.Errorf("with the number %d it is %d", n, name)
 		}
 	}
-	for i, n := range numbers {
+	for i, n := range samples.Numbers() {
 		told(t, "what was sealed", s, opening(s, 1, n, 2, 4+i), 3)
 	}
 }
 
 // TestSealOfASeal: what is sealed may be sealed again, and opened one by one.
 func TestSealOfASeal(t *testing.T) {
-	s := store(t, 9, nonce(1), nonce(2))
+	s := samples.Store(9, samples.Nonce(1), samples.Nonce(2))
 	for plain := 2; plain < 9; plain++ {
 		if name := sealed(t, s, 1, 0, 1, plain); name != plain+1 {
 			t.Errorf("the Seal of %d is %d", plain, name)
@@ -214,23 +146,23 @@ func TestSealOfASeal(t *testing.T) {
 }
 
 func TestSealRefusesWhatIsNoTerm(t *testing.T) {
-	for _, most := range []int{len(ofEachKind()), 20} {
-		s := store(t, most, ofEachKind()...)
-		for _, none := range noNames(s) {
+	for _, most := range []int{len(samples.OfEachKind()), 20} {
+		s := samples.Store(most, samples.OfEachKind()...)
+		for _, none := range samples.NoNames(s) {
 			refused(t, "a key that is no term", s, sealing(s, none, 3, 8, 1), api.ErrArg)
 			refused(t, "no term beside", s, sealing(s, 9, 3, none, 1), api.ErrArg)
 			refused(t, "no term to be sealed", s, sealing(s, 9, 3, 8, none), api.ErrArg)
 			refused(t, "no term at all", s, sealing(s, none, 3, none, none), api.ErrArg)
 		}
 	}
-	s := store(t, 0)
-	for _, none := range noNames(s) {
+	s := samples.Store(0)
+	for _, none := range samples.NoNames(s) {
 		refused(t, "nothing in the store", s, sealing(s, none, 0, none, none), api.ErrArg)
 	}
 }
 
 func TestSealWithoutRoom(t *testing.T) {
-	s := store(t, 4, nonce(1), nonce(2), nonce(3), seal(1, 0, 2, 3))
+	s := samples.Store(4, samples.Nonce(1), samples.Nonce(2), samples.Nonce(3), seal(1, 0, 2, 3))
 	refused(t, "a new Seal", s, sealing(s, 1, 1, 2, 3), api.ErrBig)
 	refused(t, "a new Seal of the one that is there", s, sealing(s, 1, 0, 2, 4), api.ErrBig)
 	refused(t, "what is to be sealed is no term", s, sealing(s, 1, 1, 2, 5), api.ErrArg)
@@ -241,9 +173,9 @@ func TestSealWithoutRoom(t *testing.T) {
 
 // TestOpenRefusesWhatIsNoTerm: whatever the others are.
 func TestOpenRefusesWhatIsNoTerm(t *testing.T) {
-	for _, most := range []int{len(ofEachKind()), 20} {
-		s := store(t, most, ofEachKind()...)
-		for _, none := range noNames(s) {
+	for _, most := range []int{len(samples.OfEachKind()), 20} {
+		s := samples.Store(most, samples.OfEachKind()...)
+		for _, none := range samples.NoNames(s) {
 			neitherOpens(t, "a key that is no term", s, none, 3, 8, term.Seal, api.ErrArg)
 			neitherOpens(t, "no term beside", s, 9, 3, none, term.Seal, api.ErrArg)
 			neitherOpens(t, "no term that is sealed", s, 9, 3, 8, none, api.ErrArg)
@@ -256,16 +188,16 @@ func TestOpenRefusesWhatIsNoTerm(t *testing.T) {
 			neitherOpens(t, "no term that is sealed, with another key and number", s, 2, 4, 8, none, api.ErrArg)
 		}
 	}
-	s := store(t, 0)
-	for _, none := range noNames(s) {
+	s := samples.Store(0)
+	for _, none := range samples.NoNames(s) {
 		neitherOpens(t, "nothing in the store", s, none, 0, none, none, api.ErrArg)
 	}
 }
 
 // TestOpenRefusesWhatIsNoSealOfThese: among all terms there is one Seal, that one key, number, and term beside open.
 func TestOpenRefusesWhatIsNoSealOfThese(t *testing.T) {
-	for _, most := range []int{len(ofEachKind()), 20} {
-		s := store(t, most, ofEachKind()...)
+	for _, most := range []int{len(samples.OfEachKind()), 20} {
+		s := samples.Store(most, samples.OfEachKind()...)
 		for key := 1; key <= s.Len(); key++ {
 			for beside := 1; beside <= s.Len(); beside++ {
 				for name := 1; name <= s.Len(); name++ {
@@ -275,7 +207,7 @@ func TestOpenRefusesWhatIsNoSealOfThese(t *testing.T) {
 				}
 			}
 		}
-		for _, n := range numbers {
+		for _, n := range samples.Numbers() {
 			neitherOpens(t, "another number", s, 9, n, 8, term.Seal, api.ErrSeal)
 		}
 		told(t, "what was sealed", s, opening(s, 9, 3, 8, term.Seal), 1)
@@ -284,7 +216,7 @@ func TestOpenRefusesWhatIsNoSealOfThese(t *testing.T) {
 
 // TestOpenRefusesLikeOnes: of what two keys, numbers, or terms beside sealed none is taken for another.
 func TestOpenRefusesLikeOnes(t *testing.T) {
-	s := store(t, 9, nonce(1), nonce(2), text("ab"))
+	s := samples.Store(9, samples.Nonce(1), samples.Nonce(2), text("ab"))
 	name := sealed(t, s, 1, 0, 2, 3)
 	otherKey, otherN, otherBeside := sealed(t, s, 2, 0, 2, 3), sealed(t, s, 1, 1, 2, 3), sealed(t, s, 1, 0, 1, 3)
 	for _, x := range []struct {
@@ -308,7 +240,7 @@ func TestOpenRefusesLikeOnes(t *testing.T) {
 
 // TestOpenNeedsNoRoom: it puts nothing.
 func TestOpenNeedsNoRoom(t *testing.T) {
-	s := store(t, 2, nonce(1), seal(1, 0, 1, 1))
+	s := samples.Store(2, samples.Nonce(1), seal(1, 0, 1, 1))
 	told(t, "what was sealed", s, opening(s, 1, 0, 1, 2), 1)
 	refused(t, "another number", s, opening(s, 1, 1, 1, 2), api.ErrSeal)
 }
@@ -317,11 +249,11 @@ func TestOpenNeedsNoRoom(t *testing.T) {
 
 // TestTextAndReadOfAllKinds: every term may be the key, and stand beside; the text itself, too.
 func TestTextAndReadOfAllKinds(t *testing.T) {
-	l := ofEachKind()
+	l := samples.OfEachKind()
 	for key := 1; key <= len(l); key++ {
 		for beside := 1; beside <= len(l); beside++ {
 			for _, x := range []string{"ab", "new"} {
-				s := store(t, 20, l...)
+				s := samples.Store(20, l...)
 				name := sealedText(t, s, key, 5, beside, x)
 				if again := sealedText(t, s, key, 5, beside, x); again != name {
 					t.Errorf("of %d and %d told is %d, and then %d", key, beside, name, again)
@@ -333,8 +265,8 @@ func TestTextAndReadOfAllKinds(t *testing.T) {
 }
 
 func TestTextAndReadOfAllNumbers(t *testing.T) {
-	s := store(t, 30, nonce(1), nonce(2))
-	for _, n := range numbers {
+	s := samples.Store(30, samples.Nonce(1), samples.Nonce(2))
+	for _, n := range samples.Numbers() {
 		name := sealedText(t, s, 1, n, 2, "ab")
 		told(t, "the text that was sealed", s, reading(s, 1, n, 2, name), "ab")
 	}
@@ -347,7 +279,7 @@ func TestTextAndReadOfTexts(t *testing.T) {
 		every[i] = byte(i)
 	}
 	for _, x := range []string{"", "a", "\x00", "\xff\xfe", "\u00e9", string(every), strings.Repeat("x", api.MaxText-1), strings.Repeat("\xff", api.MaxText)} {
-		s := store(t, 9, nonce(1), nonce(2))
+		s := samples.Store(9, samples.Nonce(1), samples.Nonce(2))
 		name := sealedText(t, s, 1, 0, 2, x)
 		told(t, "the text that was sealed", s, reading(s, 1, 0, 2, name), x)
 		plain, err := Open(s, 1, 0, 2, name)
@@ -369,7 +301,7 @@ func TestTextWhereOneIsThere(t *testing.T) {
 		{"the Text, and Seals of others", []term.Term{text("ab"), seal(2, 0, 1, 3), seal(1, 1, 2, 3)}, 6},
 		{"another text", []term.Term{text("a")}, 5},
 	} {
-		s := store(t, 9, append([]term.Term{nonce(1), nonce(2)}, x.there...)...)
+		s := samples.Store(9, append([]term.Term{samples.Nonce(1), samples.Nonce(2)}, x.there...)...)
 		if name := sealedText(t, s, 1, 0, 2, "ab"); name != x.name {
 			t.Errorf("where %s stood it is %d, not %d", x.why, name, x.name)
 		}
@@ -378,25 +310,25 @@ func TestTextWhereOneIsThere(t *testing.T) {
 
 // TestTextRefusesWhatIsNoTerm: whatever the text is, and whatever room there is; the name that the text would have is none yet.
 func TestTextRefusesWhatIsNoTerm(t *testing.T) {
-	for _, most := range []int{len(ofEachKind()), len(ofEachKind()) + 1, 20} {
-		s := store(t, most, ofEachKind()...)
+	for _, most := range []int{len(samples.OfEachKind()), len(samples.OfEachKind()) + 1, 20} {
+		s := samples.Store(most, samples.OfEachKind()...)
 		for _, x := range []string{"", "ab", "new", strings.Repeat("x", api.MaxText), strings.Repeat("x", api.MaxText+1)} {
-			for _, none := range noNames(s) {
+			for _, none := range samples.NoNames(s) {
 				refused(t, "a key that is no term", s, sealingText(s, none, 3, 8, x), api.ErrArg)
 				refused(t, "no term beside", s, sealingText(s, 9, 3, none, x), api.ErrArg)
 				refused(t, "no term at all", s, sealingText(s, none, 3, none, x), api.ErrArg)
 			}
 		}
 	}
-	s := store(t, 0)
-	for _, none := range noNames(s) {
+	s := samples.Store(0)
+	for _, none := range samples.NoNames(s) {
 		refused(t, "nothing in the store", s, sealingText(s, none, 0, none, "ab"), api.ErrArg)
 	}
 }
 
 func TestTextRefusesTextsThatAreTooLong(t *testing.T) {
-	for _, most := range []int{len(ofEachKind()), len(ofEachKind()) + 1, 20} {
-		s := store(t, most, ofEachKind()...)
+	for _, most := range []int{len(samples.OfEachKind()), len(samples.OfEachKind()) + 1, 20} {
+		s := samples.Store(most, samples.OfEachKind()...)
 		for _, size := range []int{api.MaxText + 1, api.MaxText + 2, 2 * api.MaxText, 1 << 20} {
 			refused(t, "a text that is too long", s, sealingText(s, 9, 3, 8, strings.Repeat("x", size)), api.ErrArg)
 		}
@@ -404,7 +336,7 @@ func TestTextRefusesTextsThatAreTooLong(t *testing.T) {
 }
 
 func TestTextWithoutRoom(t *testing.T) {
-	s := store(t, 4, nonce(1), nonce(2), text("ab"), seal(1, 0, 2, 3))
+	s := samples.Store(4, samples.Nonce(1), samples.Nonce(2), text("ab"), seal(1, 0, 2, 3))
 	for range 2 {
 		refused(t, "a new Text", s, sealingText(s, 1, 0, 2, "a"), api.ErrBig)
 		refused(t, "a new Seal of a Text that is there", s, sealingText(s, 1, 1, 2, "ab"), api.ErrBig)
@@ -419,17 +351,17 @@ func TestTextWithoutRoom(t *testing.T) {
 
 // TestTextWithRoomForTheTextAlone: it stays, though the call tells none of it.
 func TestTextWithRoomForTheTextAlone(t *testing.T) {
-	s := store(t, 3, nonce(1), nonce(2))
+	s := samples.Store(3, samples.Nonce(1), samples.Nonce(2))
 	refused(t, "a new Seal behind a new Text", s, sealingText(s, 1, 0, 2, "ab"), api.ErrBig, text("ab"))
 	refused(t, "a new Seal of the Text that stayed", s, sealingText(s, 1, 0, 2, "ab"), api.ErrBig)
 	refused(t, "another Text", s, sealingText(s, 1, 0, 2, "a"), api.ErrBig)
-	if name := put(t, s, text("ab")); name != 3 {
+	if name := samples.Put(s, text("ab")); name != 3 {
 		t.Errorf("the Text that stayed is %d", name)
 	}
 }
 
 func TestTextWithRoomForTheSealAlone(t *testing.T) {
-	s := store(t, 4, nonce(1), nonce(2), text("ab"))
+	s := samples.Store(4, samples.Nonce(1), samples.Nonce(2), text("ab"))
 	if name := sealedText(t, s, 1, 0, 2, "ab"); name != 4 {
 		t.Errorf("the Seal is %d", name)
 	}
@@ -437,9 +369,9 @@ func TestTextWithRoomForTheSealAlone(t *testing.T) {
 
 // TestReadRefusesWhatIsNoText: Open tells what it is; Read's error is that of a Seal that does not open.
 func TestReadRefusesWhatIsNoText(t *testing.T) {
-	l := ofEachKind()
+	l := samples.OfEachKind()
 	for plain := 1; plain <= len(l); plain++ {
-		s := store(t, 20, l...)
+		s := samples.Store(20, l...)
 		name := sealed(t, s, 9, 0, 8, plain)
 		told(t, "what was sealed", s, opening(s, 9, 0, 8, name), plain)
 		if plain == term.Text {
@@ -455,14 +387,14 @@ func TestReadRefusesWhatIsNoText(t *testing.T) {
 
 // TestReadNeedsNoRoom: it puts nothing.
 func TestReadNeedsNoRoom(t *testing.T) {
-	s := store(t, 3, nonce(1), text("ab"), seal(1, 0, 1, 2))
+	s := samples.Store(3, samples.Nonce(1), text("ab"), seal(1, 0, 1, 2))
 	told(t, "the text that was sealed", s, reading(s, 1, 0, 1, 3), "ab")
 	refused(t, "a Text, but no Seal", s, reading(s, 1, 0, 1, 2), api.ErrSeal)
 }
 
 // TestOneTermAsKeyAndBesideAndPlain: the Text itself may be the key, and stand beside.
 func TestOneTermAsKeyAndBesideAndPlain(t *testing.T) {
-	s := store(t, 9, text("ab"), nonce(1))
+	s := samples.Store(9, text("ab"), samples.Nonce(1))
 	if name := sealedText(t, s, 1, 0, 1, "ab"); name != 3 {
 		t.Errorf("the Seal is %d", name)
 	}
@@ -477,7 +409,7 @@ func TestOneTermAsKeyAndBesideAndPlain(t *testing.T) {
 
 // TestWhatIsToCome: names that are to come are none yet, and are what comes then.
 func TestWhatIsToCome(t *testing.T) {
-	s := store(t, 9, nonce(1))
+	s := samples.Store(9, samples.Nonce(1))
 	refused(t, "what is to be sealed", s, sealing(s, 1, 0, 1, 2), api.ErrArg)
 	neitherOpens(t, "what is to be opened", s, 1, 0, 1, 3, api.ErrArg)
 	name := sealedText(t, s, 1, 0, 1, "ab")
@@ -491,9 +423,9 @@ func TestWhatIsToCome(t *testing.T) {
 func TestSealsAreOpenedByTheirsAlone(t *testing.T) {
 	for seed := range int64(6) {
 		r := rand.New(rand.NewSource(seed))
-		s := store(t, 1000, ofEachKind()...)
+		s := samples.Store(1000, samples.OfEachKind()...)
 		for range 12 {
-			key, n, beside := 1+r.Intn(s.Len()), numbers[r.Intn(len(numbers))], 1+r.Intn(s.Len())
+			key, n, beside := 1+r.Intn(s.Len()), samples.Numbers()[r.Intn(len(samples.Numbers()))], 1+r.Intn(s.Len())
 			plain := 1 + r.Intn(s.Len())
 			name := sealed(t, s, key, n, beside, plain)
 			told(t, "what was sealed", s, opening(s, key, n, beside, name), plain)
@@ -505,7 +437,7 @@ func TestSealsAreOpenedByTheirsAlone(t *testing.T) {
 					neitherOpens(t, "something else beside", s, key, n, other, name, api.ErrSeal)
 				}
 			}
-			for _, other := range append(numbers, n+1, n-1, n^1<<63) {
+			for _, other := range append(samples.Numbers(), n+1, n-1, n^1<<63) {
 				if other != n {
 					neitherOpens(t, "another number", s, key, other, beside, name, api.ErrSeal)
 				}
@@ -517,15 +449,15 @@ func TestSealsAreOpenedByTheirsAlone(t *testing.T) {
 // TestUnlikeOnesAreSealedUnlike: no two keys, numbers, terms beside, or texts have one Seal.
 func TestUnlikeOnesAreSealedUnlike(t *testing.T) {
 	const terms = 4
-	s := store(t, 1000)
+	s := samples.Store(1000)
 	for i := range terms {
-		put(t, s, nonce(uint64(i)))
+		samples.Put(s, samples.Nonce(uint64(i)))
 	}
 	seen := map[int]bool{}
 	count := 0
 	for key := 1; key <= terms; key++ {
 		for beside := 1; beside <= terms; beside++ {
-			for _, n := range numbers {
+			for _, n := range samples.Numbers() {
 				for _, x := range []string{"", "a", "b"} {
 					seen[sealedText(t, s, key, n, beside, x)] = true
 					count++
@@ -540,7 +472,7 @@ func TestUnlikeOnesAreSealedUnlike(t *testing.T) {
 
 // TestCopiesOfAStoreSealOnTheirOwn: what is sealed in one of them the other one has not (R7).
 func TestCopiesOfAStoreSealOnTheirOwn(t *testing.T) {
-	s := store(t, 9, nonce(1))
+	s := samples.Store(9, samples.Nonce(1))
 	c := *s
 	name := sealedText(t, s, 1, 0, 1, "ab")
 	neitherOpens(t, "a Seal of the original alone", &c, 1, 0, 1, name, api.ErrArg)

@@ -1,87 +1,24 @@
 package dh
 
 import (
-	"math"
 	"math/rand"
 	"slices"
 	"testing"
 
 	"sough/api"
+	"sough/samples"
 	"sough/term"
 )
-
-// store is a store with room for so many, in which these terms are put.
-func store(t *testing.T, most int, l ...term.Term) *term.Store {
-	t.Helper()
-	s, err := term.New(most)
-	if err != api.OK {
-		t.Fatalf("New(%d): %d", most, err)
-	}
-	for _, x := range l {
-		put(t, s, x)
-	}
-	return s
-}
-
-// put puts a term that may be.
-func put(t *testing.T, s *term.Store, x term.Term) int {
-	t.Helper()
-	name, err := s.Put(x)
-	if err != api.OK {
-		t.Fatalf("Put(%+v) = %d, %d", x, name, err)
-	}
-	return name
-}
-
-// nonce is one kind of secret.
-func nonce(n uint64) term.Term { return term.Term{Kind: term.Nonce, N: n} }
-
-// ofEachKind is a term of each kind, by rising kinds, that may all be in a store, put in this order: so each one's name is its kind.
-func ofEachKind() []term.Term {
-	return []term.Term{
-		{Kind: term.Text, S: "ab"},
-		{Kind: term.Nonce, N: 7},
-		{Kind: term.Pub, A: 2},
-		{Kind: term.Share, A: 1, B: 2},
-		{Kind: term.Kpub, A: 2},
-		{Kind: term.Box, A: 2, B: 1},
-		{Kind: term.Kem, A: 2, B: 1},
-		{Kind: term.Hash, A: 2, B: 1},
-		{Kind: term.Key, A: 2, N: 9},
-		{Kind: term.Seal, A: 9, N: 3, B: 8, C: 1},
-		{Kind: term.Pair, A: 2, B: 1},
-	}
-}
-
-// noNames are numbers that are no term's name there.
-func noNames(s *term.Store) []int {
-	return []int{0, -1, -2, math.MinInt, s.Len() + 1, s.Len() + 2, api.MaxTerms + 1, math.MaxInt}
-}
-
-// all are a store's terms, in the order of their names.
-func all(s *term.Store) []term.Term {
-	var l []term.Term
-	for name := 1; name <= s.Len(); name++ {
-		x, _ := s.Get(name)
-		l = append(l, x)
-	}
-	return l
-}
 
 // told looks whether a call tells the name of this term, and puts nothing but that.
 func told(t *testing.T, s *term.Store, call func() (int, api.Errno), want term.Term) int {
 	t.Helper()
-	after := all(s)
-	place := slices.Index(after, want)
-	if place < 0 {
-		place = len(after)
-		after = append(after, want)
-	}
+	after, due := samples.With(samples.All(s), want)
 	name, err := call()
-	if name != place+1 || err != api.OK {
-		t.Errorf("told is %d, %d, not %d of %+v", name, err, place+1, want)
+	if name != due || err != api.OK {
+		t.Errorf("told is %d, %d, not %d of %+v", name, err, due, want)
 	}
-	if got := all(s); !slices.Equal(got, after) {
+	if got := samples.All(s); !slices.Equal(got, after) {
 		t.Errorf("of %+v the store has %+v, not %+v", want, got, after)
 	}
 	return name
@@ -90,11 +27,11 @@ func told(t *testing.T, s *term.Store, call func() (int, api.Errno), want term.T
 // refused looks whether a call is refused with this error, and changes nothing.
 func refused(t *testing.T, why string, s *term.Store, call func() (int, api.Errno), want api.Errno) {
 	t.Helper()
-	before := all(s)
+	before := samples.All(s)
 	if name, err := call(); name != 0 || err != want {
 		t.Errorf("%s: told is %d, %d, not 0, %d", why, name, err, want)
 	}
-	if !slices.Equal(all(s), before) {
+	if !slices.Equal(samples.All(s), before) {
 		t.Errorf("%s: what was refused changed the store", why)
 	}
 }
@@ -122,7 +59,7 @@ func agreed(t *testing.T, s *term.Store, secret, public, theirs int) int {
 }
 
 func TestExampleOfTheChapter(t *testing.T) {
-	s := store(t, 5, nonce(1), nonce(2))
+	s := samples.Store(5, samples.Nonce(1), samples.Nonce(2))
 	for i, x := range []struct {
 		call func() (int, api.Errno)
 		want int
@@ -141,9 +78,9 @@ func TestExampleOfTheChapter(t *testing.T) {
 // P3.1
 
 func TestPublicOfEachKind(t *testing.T) {
-	l := ofEachKind()
+	l := samples.OfEachKind()
 	for secret := 1; secret <= len(l); secret++ {
-		s := store(t, 20, l...)
+		s := samples.Store(20, l...)
 		first := publicOf(t, s, secret)
 		if again := publicOf(t, s, secret); again != first {
 			t.Errorf("the public key of %d is %d, and then %d", secret, first, again)
@@ -152,7 +89,7 @@ func TestPublicOfEachKind(t *testing.T) {
 }
 
 func TestPublicOfAPublicKey(t *testing.T) {
-	s := store(t, 9, nonce(1))
+	s := samples.Store(9, samples.Nonce(1))
 	for secret := 1; secret < 9; secret++ {
 		if name := publicOf(t, s, secret); name != secret+1 {
 			t.Errorf("the public key of %d is %d", secret, name)
@@ -161,20 +98,20 @@ func TestPublicOfAPublicKey(t *testing.T) {
 }
 
 func TestPublicRefusesWhatIsNoTerm(t *testing.T) {
-	for _, most := range []int{len(ofEachKind()), 20} {
-		s := store(t, most, ofEachKind()...)
-		for _, secret := range noNames(s) {
+	for _, most := range []int{len(samples.OfEachKind()), 20} {
+		s := samples.Store(most, samples.OfEachKind()...)
+		for _, secret := range samples.NoNames(s) {
 			refused(t, "a secret that is no term", s, public(s, secret), api.ErrArg)
 		}
 	}
-	s := store(t, 0)
-	for _, secret := range noNames(s) {
+	s := samples.Store(0)
+	for _, secret := range samples.NoNames(s) {
 		refused(t, "a secret of no term at all", s, public(s, secret), api.ErrArg)
 	}
 }
 
 func TestPublicWithoutRoom(t *testing.T) {
-	s := store(t, 3, nonce(1), nonce(2), term.Term{Kind: term.Pub, A: 1})
+	s := samples.Store(3, samples.Nonce(1), samples.Nonce(2), term.Term{Kind: term.Pub, A: 1})
 	refused(t, "a new public key", s, public(s, 2), api.ErrBig)
 	refused(t, "a new public key of a public key", s, public(s, 3), api.ErrBig)
 	refused(t, "a secret that is no term", s, public(s, 4), api.ErrArg)
@@ -184,29 +121,29 @@ func TestPublicWithoutRoom(t *testing.T) {
 }
 
 func TestIsOfEachKind(t *testing.T) {
-	s := store(t, 20, ofEachKind()...)
-	put(t, s, term.Term{Kind: term.Pub, A: 1})
-	put(t, s, term.Term{Kind: term.Pub, A: 12})
-	put(t, s, term.Term{Kind: term.Kpub, A: 12})
-	before := all(s)
+	s := samples.Store(20, samples.OfEachKind()...)
+	samples.Put(s, term.Term{Kind: term.Pub, A: 1})
+	samples.Put(s, term.Term{Kind: term.Pub, A: 12})
+	samples.Put(s, term.Term{Kind: term.Kpub, A: 12})
+	before := samples.All(s)
 	for i, x := range before {
 		if got := Is(s, i+1); got != (x.Kind == term.Pub) {
 			t.Errorf("Is of %+v: %t", x, got)
 		}
 	}
-	for _, name := range noNames(s) {
+	for _, name := range samples.NoNames(s) {
 		if Is(s, name) {
 			t.Errorf("Is(%d), but there is no such term", name)
 		}
 	}
-	if !slices.Equal(all(s), before) {
+	if !slices.Equal(samples.All(s), before) {
 		t.Error("Is changed the store")
 	}
 }
 
 func TestIsWhereThereIsNone(t *testing.T) {
-	s := store(t, 0)
-	for _, name := range noNames(s) {
+	s := samples.Store(0)
+	for _, name := range samples.NoNames(s) {
 		if Is(s, name) {
 			t.Errorf("Is(%d) of an empty store", name)
 		}
@@ -215,7 +152,7 @@ func TestIsWhereThereIsNone(t *testing.T) {
 
 // TestIsOnceItIsThere: a name that is to come is none yet.
 func TestIsOnceItIsThere(t *testing.T) {
-	s := store(t, 3, nonce(1))
+	s := samples.Store(3, samples.Nonce(1))
 	if Is(s, 2) {
 		t.Error("Is of a public key ahead of its being put")
 	}
@@ -228,10 +165,10 @@ func TestIsOnceItIsThere(t *testing.T) {
 
 // TestAgreeOfAllKinds: every term is a secret, and so is one of which there is a public key; of each two there is one Share, the lesser name first.
 func TestAgreeOfAllKinds(t *testing.T) {
-	l := ofEachKind()
+	l := samples.OfEachKind()
 	for theirs := 1; theirs <= len(l); theirs++ {
 		for secret := 1; secret <= len(l); secret++ {
-			s := store(t, 20, l...)
+			s := samples.Store(20, l...)
 			pub := publicOf(t, s, theirs)
 			first := agreed(t, s, secret, pub, theirs)
 			if again := agreed(t, s, secret, pub, theirs); again != first {
@@ -244,7 +181,7 @@ func TestAgreeOfAllKinds(t *testing.T) {
 func TestAgreeOfBothSidesTellsTheLesserNameFirst(t *testing.T) {
 	want := term.Term{Kind: term.Share, A: 1, B: 2}
 	for _, x := range []struct{ secret, public int }{{1, 4}, {2, 3}} {
-		s := store(t, 5, nonce(1), nonce(2), term.Term{Kind: term.Pub, A: 1}, term.Term{Kind: term.Pub, A: 2})
+		s := samples.Store(5, samples.Nonce(1), samples.Nonce(2), term.Term{Kind: term.Pub, A: 1}, term.Term{Kind: term.Pub, A: 2})
 		if name := told(t, s, agree(s, x.secret, x.public), want); name != 5 {
 			t.Errorf("Agree(%d, %d) = %d", x.secret, x.public, name)
 		}
@@ -252,7 +189,7 @@ func TestAgreeOfBothSidesTellsTheLesserNameFirst(t *testing.T) {
 }
 
 func TestAgreeOfOneSecretOnBothSides(t *testing.T) {
-	s := store(t, 9, nonce(1), nonce(2))
+	s := samples.Store(9, samples.Nonce(1), samples.Nonce(2))
 	pub := publicOf(t, s, 2)
 	if x, _ := s.Get(agreed(t, s, 2, pub, 2)); x != (term.Term{Kind: term.Share, A: 2, B: 2}) {
 		t.Errorf("what a secret shares with itself is %+v", x)
@@ -261,7 +198,7 @@ func TestAgreeOfOneSecretOnBothSides(t *testing.T) {
 
 // TestAgreeOfAPublicKeyAsSecret: a public key is a term as any, and so a secret, of its own key too.
 func TestAgreeOfAPublicKeyAsSecret(t *testing.T) {
-	s := store(t, 9, nonce(1))
+	s := samples.Store(9, samples.Nonce(1))
 	pub := publicOf(t, s, 1)
 	over := publicOf(t, s, pub)
 	agreed(t, s, pub, pub, 1)
@@ -271,7 +208,7 @@ func TestAgreeOfAPublicKeyAsSecret(t *testing.T) {
 }
 
 func TestAgreeOfAShare(t *testing.T) {
-	s := store(t, 20, nonce(1), nonce(2))
+	s := samples.Store(20, samples.Nonce(1), samples.Nonce(2))
 	one, two := publicOf(t, s, 1), publicOf(t, s, 2)
 	share := agreed(t, s, 1, two, 2)
 	pub := publicOf(t, s, share)
@@ -285,9 +222,9 @@ func TestAgreeOfAShare(t *testing.T) {
 
 func TestAgreeRefusesSecretsThatAreNoTerms(t *testing.T) {
 	for _, most := range []int{12, 20} {
-		s := store(t, most, ofEachKind()...)
+		s := samples.Store(most, samples.OfEachKind()...)
 		pub := publicOf(t, s, 11)
-		for _, secret := range noNames(s) {
+		for _, secret := range samples.NoNames(s) {
 			refused(t, "a secret that is no term", s, agree(s, secret, pub), api.ErrArg)
 		}
 	}
@@ -295,19 +232,19 @@ func TestAgreeRefusesSecretsThatAreNoTerms(t *testing.T) {
 
 func TestAgreeRefusesWhatIsNoPublicKey(t *testing.T) {
 	for _, most := range []int{11, 20} {
-		s := store(t, most, ofEachKind()...)
+		s := samples.Store(most, samples.OfEachKind()...)
 		for secret := 1; secret <= s.Len(); secret++ {
 			for pub := 1; pub <= s.Len(); pub++ {
 				if pub != term.Pub {
 					refused(t, "a term, but no Pub", s, agree(s, secret, pub), api.ErrArg)
 				}
 			}
-			for _, pub := range noNames(s) {
+			for _, pub := range samples.NoNames(s) {
 				refused(t, "a public key that is no term", s, agree(s, secret, pub), api.ErrArg)
 			}
 		}
-		for _, secret := range noNames(s) {
-			for _, pub := range append(noNames(s), term.Nonce, term.Kpub) {
+		for _, secret := range samples.NoNames(s) {
+			for _, pub := range append(samples.NoNames(s), term.Nonce, term.Kpub) {
 				refused(t, "neither is one", s, agree(s, secret, pub), api.ErrArg)
 			}
 		}
@@ -316,13 +253,13 @@ func TestAgreeRefusesWhatIsNoPublicKey(t *testing.T) {
 
 // TestAgreeAheadOfAPublicKey: one that is to come is none yet.
 func TestAgreeAheadOfAPublicKey(t *testing.T) {
-	s := store(t, 9, nonce(1), nonce(2))
+	s := samples.Store(9, samples.Nonce(1), samples.Nonce(2))
 	refused(t, "a public key that is to come", s, agree(s, 1, 3), api.ErrArg)
 	agreed(t, s, 1, publicOf(t, s, 2), 2)
 }
 
 func TestAgreeWithoutRoom(t *testing.T) {
-	s := store(t, 6, nonce(1), nonce(2), term.Term{Kind: term.Pub, A: 1}, term.Term{Kind: term.Pub, A: 2}, term.Term{Kind: term.Kpub, A: 2}, term.Term{Kind: term.Share, A: 1, B: 2})
+	s := samples.Store(6, samples.Nonce(1), samples.Nonce(2), term.Term{Kind: term.Pub, A: 1}, term.Term{Kind: term.Pub, A: 2}, term.Term{Kind: term.Kpub, A: 2}, term.Term{Kind: term.Share, A: 1, B: 2})
 	refused(t, "a new Share of one secret", s, agree(s, 1, 3), api.ErrBig)
 	refused(t, "a new Share of the lesser side", s, agree(s, 2, 4), api.ErrBig)
 	refused(t, "a new Share of a Share", s, agree(s, 6, 3), api.ErrBig)
@@ -339,13 +276,13 @@ func TestAgreeWithoutRoom(t *testing.T) {
 func TestBothSidesAgree(t *testing.T) {
 	for seed := range int64(8) {
 		r := rand.New(rand.NewSource(seed))
-		s := store(t, 1000, ofEachKind()...)
+		s := samples.Store(1000, samples.OfEachKind()...)
 		for range 150 {
 			x, y := 1+r.Intn(s.Len()), 1+r.Intn(s.Len())
 			mine, theirs := publicOf(t, s, x), publicOf(t, s, y)
 			one := agreed(t, s, x, theirs, y)
 			if r.Intn(3) == 0 {
-				put(t, s, nonce(r.Uint64()))
+				samples.Put(s, samples.Nonce(r.Uint64()))
 			}
 			if other := agreed(t, s, y, mine, x); other != one {
 				t.Fatalf("%d and %d agree on %d, %d and %d on %d", x, y, one, y, x, other)
@@ -357,9 +294,9 @@ func TestBothSidesAgree(t *testing.T) {
 // TestUnlikePairsShareUnlikeSecrets: no two pairs agree on one secret.
 func TestUnlikePairsShareUnlikeSecrets(t *testing.T) {
 	const secrets = 12
-	s := store(t, 1000)
+	s := samples.Store(1000)
 	for i := range secrets {
-		put(t, s, nonce(uint64(i)))
+		samples.Put(s, samples.Nonce(uint64(i)))
 	}
 	pairs := map[int][2]int{}
 	for x := 1; x <= secrets; x++ {
@@ -375,7 +312,7 @@ func TestUnlikePairsShareUnlikeSecrets(t *testing.T) {
 
 // TestCopiesOfAStoreAgreeOnTheirOwn: what is agreed on in one of them the other one has not (R7).
 func TestCopiesOfAStoreAgreeOnTheirOwn(t *testing.T) {
-	s := store(t, 9, nonce(1), nonce(2))
+	s := samples.Store(9, samples.Nonce(1), samples.Nonce(2))
 	c := *s
 	publicOf(t, s, 2)
 	if Is(&c, 3) {

@@ -1,77 +1,20 @@
 package kem
 
 import (
-	"math"
 	"math/rand"
 	"slices"
 	"testing"
 
 	"sough/api"
+	"sough/samples"
 	"sough/term"
 )
-
-// store is a store with room for so many, in which these terms are put.
-func store(t *testing.T, most int, l ...term.Term) *term.Store {
-	t.Helper()
-	s, err := term.New(most)
-	if err != api.OK {
-		t.Fatalf("New(%d): %d", most, err)
-	}
-	for _, x := range l {
-		put(t, s, x)
-	}
-	return s
-}
-
-// put puts a term that may be.
-func put(t *testing.T, s *term.Store, x term.Term) int {
-	t.Helper()
-	name, err := s.Put(x)
-	if err != api.OK {
-		t.Fatalf("Put(%+v) = %d, %d", x, name, err)
-	}
-	return name
-}
-
-func nonce(n uint64) term.Term { return term.Term{Kind: term.Nonce, N: n} }
 
 func kpub(secret int) term.Term { return term.Term{Kind: term.Kpub, A: secret} }
 
 func box(secret, drawn int) term.Term { return term.Term{Kind: term.Box, A: secret, B: drawn} }
 
 func kem(secret, drawn int) term.Term { return term.Term{Kind: term.Kem, A: secret, B: drawn} }
-
-// ofEachKind is a term of each kind, by rising kinds, that may all be in a store, put in this order: so each one's name is its kind.
-func ofEachKind() []term.Term {
-	return []term.Term{
-		{Kind: term.Text, S: "ab"},
-		{Kind: term.Nonce, N: 7},
-		{Kind: term.Pub, A: 2},
-		{Kind: term.Share, A: 1, B: 2},
-		{Kind: term.Kpub, A: 2},
-		{Kind: term.Box, A: 2, B: 1},
-		{Kind: term.Kem, A: 2, B: 1},
-		{Kind: term.Hash, A: 2, B: 1},
-		{Kind: term.Key, A: 2, N: 9},
-		{Kind: term.Seal, A: 9, N: 3, B: 8, C: 1},
-		{Kind: term.Pair, A: 2, B: 1},
-	}
-}
-
-// noNames are numbers that are no term's name there.
-func noNames(s *term.Store) []int {
-	return []int{0, -1, -2, math.MinInt, s.Len() + 1, s.Len() + 2, api.MaxTerms + 1, math.MaxInt}
-}
-
-// all are a store's terms, in the order of their names.
-func all(s *term.Store) []term.Term {
-	var l []term.Term
-	for name := 1; name <= s.Len(); name++ {
-		x, _ := s.Get(name)
-		l = append(l, x)
-	}
-	return l
-}
 
 // call is one of the package's calls: its error, and as many names as it tells.
 type call func() ([]int, api.Errno)
@@ -100,21 +43,18 @@ func open(s *term.Store, secret, box int) call {
 // told looks whether a call tells these terms' names, and puts nothing but those that are not there yet, in this order.
 func told(t *testing.T, why string, s *term.Store, c call, l ...term.Term) []int {
 	t.Helper()
-	after := all(s)
+	after := samples.All(s)
 	var want []int
 	for _, x := range l {
-		place := slices.Index(after, x)
-		if place < 0 {
-			place = len(after)
-			after = append(after, x)
-		}
-		want = append(want, place+1)
+		var name int
+		after, name = samples.With(after, x)
+		want = append(want, name)
 	}
 	names, err := c()
 	if !slices.Equal(names, want) || err != api.OK {
 		t.Errorf("%s: told is %v, %d, not %v of %+v", why, names, err, want, l)
 	}
-	if got := all(s); !slices.Equal(got, after) {
+	if got := samples.All(s); !slices.Equal(got, after) {
 		t.Errorf("%s: the store has %+v, not %+v", why, got, after)
 	}
 	return names
@@ -123,12 +63,12 @@ func told(t *testing.T, why string, s *term.Store, c call, l ...term.Term) []int
 // refused looks whether a call is refused with this error, and puts these terms alone.
 func refused(t *testing.T, why string, s *term.Store, c call, want api.Errno, stays ...term.Term) {
 	t.Helper()
-	after := append(all(s), stays...)
+	after := append(samples.All(s), stays...)
 	names, err := c()
 	if slices.Max(names) != 0 || slices.Min(names) != 0 || err != want {
 		t.Errorf("%s: told is %v, %d, not zeros, %d", why, names, err, want)
 	}
-	if got := all(s); !slices.Equal(got, after) {
+	if got := samples.All(s); !slices.Equal(got, after) {
 		t.Errorf("%s: the store has %+v, not %+v", why, got, after)
 	}
 }
@@ -153,7 +93,7 @@ func opened(t *testing.T, s *term.Store, secret, box, drawn int) int {
 }
 
 func TestExampleOfTheChapter(t *testing.T) {
-	s := store(t, 5, nonce(1), nonce(2))
+	s := samples.Store(5, samples.Nonce(1), samples.Nonce(2))
 	if name, err := Public(s, 1); name != 3 || err != api.OK {
 		t.Errorf("Public = %d, %d", name, err)
 	}
@@ -166,17 +106,17 @@ func TestExampleOfTheChapter(t *testing.T) {
 	if name, err := Open(s, 2, 4); name != 0 || err != api.ErrBox {
 		t.Errorf("Open by another secret = %d, %d", name, err)
 	}
-	if want := []term.Term{nonce(1), nonce(2), kpub(1), box(1, 2), kem(1, 2)}; !slices.Equal(all(s), want) {
-		t.Errorf("the store has %+v, not %+v", all(s), want)
+	if want := []term.Term{samples.Nonce(1), samples.Nonce(2), kpub(1), box(1, 2), kem(1, 2)}; !slices.Equal(samples.All(s), want) {
+		t.Errorf("the store has %+v, not %+v", samples.All(s), want)
 	}
 }
 
 // P4.1
 
 func TestPublicOfEachKind(t *testing.T) {
-	l := ofEachKind()
+	l := samples.OfEachKind()
 	for secret := 1; secret <= len(l); secret++ {
-		s := store(t, 20, l...)
+		s := samples.Store(20, l...)
 		first := publicOf(t, s, secret)
 		if again := publicOf(t, s, secret); again != first {
 			t.Errorf("the wrapping key of %d is %d, and then %d", secret, first, again)
@@ -185,7 +125,7 @@ func TestPublicOfEachKind(t *testing.T) {
 }
 
 func TestPublicOfAWrappingKey(t *testing.T) {
-	s := store(t, 9, nonce(1))
+	s := samples.Store(9, samples.Nonce(1))
 	for secret := 1; secret < 9; secret++ {
 		if name := publicOf(t, s, secret); name != secret+1 {
 			t.Errorf("the wrapping key of %d is %d", secret, name)
@@ -194,20 +134,20 @@ func TestPublicOfAWrappingKey(t *testing.T) {
 }
 
 func TestPublicRefusesWhatIsNoTerm(t *testing.T) {
-	for _, most := range []int{len(ofEachKind()), 20} {
-		s := store(t, most, ofEachKind()...)
-		for _, secret := range noNames(s) {
+	for _, most := range []int{len(samples.OfEachKind()), 20} {
+		s := samples.Store(most, samples.OfEachKind()...)
+		for _, secret := range samples.NoNames(s) {
 			refused(t, "a secret that is no term", s, public(s, secret), api.ErrArg)
 		}
 	}
-	s := store(t, 0)
-	for _, secret := range noNames(s) {
+	s := samples.Store(0)
+	for _, secret := range samples.NoNames(s) {
 		refused(t, "a secret of no term at all", s, public(s, secret), api.ErrArg)
 	}
 }
 
 func TestPublicWithoutRoom(t *testing.T) {
-	s := store(t, 3, nonce(1), nonce(2), kpub(1))
+	s := samples.Store(3, samples.Nonce(1), samples.Nonce(2), kpub(1))
 	refused(t, "a new wrapping key", s, public(s, 2), api.ErrBig)
 	refused(t, "a new wrapping key of a wrapping key", s, public(s, 3), api.ErrBig)
 	refused(t, "a secret that is no term", s, public(s, 4), api.ErrArg)
@@ -220,10 +160,10 @@ func TestPublicWithoutRoom(t *testing.T) {
 
 // TestWrapOfAllKinds: every term is a secret that has a wrapping key, and every one may be drawn, the secret itself too.
 func TestWrapOfAllKinds(t *testing.T) {
-	l := ofEachKind()
+	l := samples.OfEachKind()
 	for secret := 1; secret <= len(l); secret++ {
 		for drawn := 1; drawn <= len(l); drawn++ {
-			s := store(t, 20, l...)
+			s := samples.Store(20, l...)
 			pub := publicOf(t, s, secret)
 			b, in := wrapped(t, s, pub, drawn, secret)
 			if b2, in2 := wrapped(t, s, pub, drawn, secret); b2 != b || in2 != in {
@@ -234,7 +174,7 @@ func TestWrapOfAllKinds(t *testing.T) {
 }
 
 func TestWrapTellsTheBoxFirst(t *testing.T) {
-	s := store(t, 9, nonce(1), nonce(2), kpub(1))
+	s := samples.Store(9, samples.Nonce(1), samples.Nonce(2), kpub(1))
 	b, in, err := Wrap(s, 3, 2)
 	if x, _ := s.Get(b); x != box(1, 2) || b != 4 {
 		t.Errorf("the first name is %d, of %+v", b, x)
@@ -249,7 +189,7 @@ func TestWrapTellsTheBoxFirst(t *testing.T) {
 
 // TestWrapOfWhatIsAtHand: the wrapping key itself may be drawn, and so may a box, and what is in it.
 func TestWrapOfWhatIsAtHand(t *testing.T) {
-	s := store(t, 30, nonce(1))
+	s := samples.Store(30, samples.Nonce(1))
 	pub := publicOf(t, s, 1)
 	b, in := wrapped(t, s, pub, 1, 1)
 	for _, drawn := range []int{pub, b, in} {
@@ -272,7 +212,7 @@ func TestWrapWhereOneIsThere(t *testing.T) {
 		{"both, the Kem first", []term.Term{kem(1, 2), box(1, 2)}, 5, 4},
 		{"those of other terms", []term.Term{box(2, 1), kem(2, 1)}, 6, 7},
 	} {
-		s := store(t, 9, append([]term.Term{nonce(1), nonce(2), kpub(1)}, x.there...)...)
+		s := samples.Store(9, append([]term.Term{samples.Nonce(1), samples.Nonce(2), kpub(1)}, x.there...)...)
 		if b, in := wrapped(t, s, 3, 2, 1); b != x.box || in != x.in {
 			t.Errorf("where %s stood: %d, %d, not %d, %d", x.why, b, in, x.box, x.in)
 		}
@@ -280,15 +220,15 @@ func TestWrapWhereOneIsThere(t *testing.T) {
 }
 
 func TestWrapRefusesWhatIsNoWrappingKey(t *testing.T) {
-	for _, most := range []int{len(ofEachKind()), 20} {
-		s := store(t, most, ofEachKind()...)
+	for _, most := range []int{len(samples.OfEachKind()), 20} {
+		s := samples.Store(most, samples.OfEachKind()...)
 		for drawn := 1; drawn <= s.Len(); drawn++ {
 			for pub := 1; pub <= s.Len(); pub++ {
 				if pub != term.Kpub {
 					refused(t, "a term, but no Kpub", s, wrap(s, pub, drawn), api.ErrArg)
 				}
 			}
-			for _, pub := range noNames(s) {
+			for _, pub := range samples.NoNames(s) {
 				refused(t, "a wrapping key that is no term", s, wrap(s, pub, drawn), api.ErrArg)
 			}
 		}
@@ -297,41 +237,41 @@ func TestWrapRefusesWhatIsNoWrappingKey(t *testing.T) {
 
 // TestWrapRefusesWhatIsNoTerm: whatever the wrapping key is, and whatever room there is.
 func TestWrapRefusesWhatIsNoTerm(t *testing.T) {
-	for _, most := range []int{len(ofEachKind()), 20} {
-		s := store(t, most, ofEachKind()...)
-		for _, drawn := range noNames(s) {
-			for _, pub := range append(noNames(s), term.Nonce, term.Pub, term.Kpub, term.Box) {
+	for _, most := range []int{len(samples.OfEachKind()), 20} {
+		s := samples.Store(most, samples.OfEachKind()...)
+		for _, drawn := range samples.NoNames(s) {
+			for _, pub := range append(samples.NoNames(s), term.Nonce, term.Pub, term.Kpub, term.Box) {
 				refused(t, "what was drawn is no term", s, wrap(s, pub, drawn), api.ErrArg)
 			}
 		}
 	}
-	s := store(t, 0)
-	for _, name := range noNames(s) {
+	s := samples.Store(0)
+	for _, name := range samples.NoNames(s) {
 		refused(t, "no term at all", s, wrap(s, name, name), api.ErrArg)
 	}
 }
 
 // TestWrapAheadOfItsTerms: names that are to come are none yet.
 func TestWrapAheadOfItsTerms(t *testing.T) {
-	s := store(t, 9, nonce(1))
+	s := samples.Store(9, samples.Nonce(1))
 	refused(t, "a wrapping key that is to come", s, wrap(s, 2, 1), api.ErrArg)
 	pub := publicOf(t, s, 1)
 	refused(t, "what is to be drawn", s, wrap(s, pub, 3), api.ErrArg)
-	wrapped(t, s, pub, put(t, s, nonce(2)), 1)
+	wrapped(t, s, pub, samples.Put(s, samples.Nonce(2)), 1)
 }
 
 func TestWrapWithoutRoom(t *testing.T) {
-	s := store(t, 3, nonce(1), nonce(2), kpub(1))
+	s := samples.Store(3, samples.Nonce(1), samples.Nonce(2), kpub(1))
 	for range 2 {
 		refused(t, "a new Box and a new Kem", s, wrap(s, 3, 2), api.ErrBig)
 	}
 	refused(t, "a wrapping key that is none", s, wrap(s, 2, 2), api.ErrArg)
 	refused(t, "what was drawn is no term", s, wrap(s, 3, 4), api.ErrArg)
-	s = store(t, 4, nonce(1), nonce(2), kpub(1), kem(1, 2))
+	s = samples.Store(4, samples.Nonce(1), samples.Nonce(2), kpub(1), kem(1, 2))
 	refused(t, "a new Box of a Kem that is there", s, wrap(s, 3, 2), api.ErrBig)
-	s = store(t, 4, nonce(1), nonce(2), kpub(1), box(1, 2))
+	s = samples.Store(4, samples.Nonce(1), samples.Nonce(2), kpub(1), box(1, 2))
 	refused(t, "a new Kem of a Box that is there", s, wrap(s, 3, 2), api.ErrBig)
-	s = store(t, 5, nonce(1), nonce(2), kpub(1), kem(1, 2), box(1, 2))
+	s = samples.Store(5, samples.Nonce(1), samples.Nonce(2), kpub(1), kem(1, 2), box(1, 2))
 	if b, in := wrapped(t, s, 3, 2, 1); b != 5 || in != 4 {
 		t.Errorf("those that are there are %d, %d", b, in)
 	}
@@ -339,19 +279,19 @@ func TestWrapWithoutRoom(t *testing.T) {
 
 // TestWrapWithRoomForTheBoxAlone: it stays, though the call tells none of it.
 func TestWrapWithRoomForTheBoxAlone(t *testing.T) {
-	s := store(t, 4, nonce(1), nonce(2), kpub(1))
+	s := samples.Store(4, samples.Nonce(1), samples.Nonce(2), kpub(1))
 	refused(t, "a new Kem behind a new Box", s, wrap(s, 3, 2), api.ErrBig, box(1, 2))
 	refused(t, "a new Kem of the Box that stayed", s, wrap(s, 3, 2), api.ErrBig)
 	refused(t, "to open the Box that stayed", s, open(s, 1, 4), api.ErrBig)
 	refused(t, "to open the Box that stayed by another secret", s, open(s, 2, 4), api.ErrBox)
-	if name := put(t, s, box(1, 2)); name != 4 {
+	if name := samples.Put(s, box(1, 2)); name != 4 {
 		t.Errorf("the Box that stayed is %d", name)
 	}
 }
 
 func TestWrapWithRoomForOneWhereTheOtherOneIs(t *testing.T) {
 	for _, there := range []term.Term{box(1, 2), kem(1, 2)} {
-		s := store(t, 5, nonce(1), nonce(2), kpub(1), there)
+		s := samples.Store(5, samples.Nonce(1), samples.Nonce(2), kpub(1), there)
 		wrapped(t, s, 3, 2, 1)
 	}
 }
@@ -359,11 +299,11 @@ func TestWrapWithRoomForOneWhereTheOtherOneIs(t *testing.T) {
 // P4.3
 
 func TestOpenOfAllKinds(t *testing.T) {
-	l := ofEachKind()
+	l := samples.OfEachKind()
 	for secret := 1; secret <= len(l); secret++ {
 		for drawn := 1; drawn <= len(l); drawn++ {
-			s := store(t, 20, l...)
-			b := put(t, s, box(secret, drawn))
+			s := samples.Store(20, l...)
+			b := samples.Put(s, box(secret, drawn))
 			first := opened(t, s, secret, b, drawn)
 			if again := opened(t, s, secret, b, drawn); again != first {
 				t.Errorf("in the box of %d and %d is %d, and then %d", secret, drawn, first, again)
@@ -374,35 +314,35 @@ func TestOpenOfAllKinds(t *testing.T) {
 
 // TestOpenAsksForNoWrappingKey: a box is opened, and the secret in it put, where neither key nor Kem has been told.
 func TestOpenAsksForNoWrappingKey(t *testing.T) {
-	s := store(t, 4, nonce(1), nonce(2), box(1, 2))
+	s := samples.Store(4, samples.Nonce(1), samples.Nonce(2), box(1, 2))
 	if name := opened(t, s, 1, 3, 2); name != 4 {
 		t.Errorf("the secret is %d", name)
 	}
 }
 
 func TestOpenRefusesWhatIsNoTerm(t *testing.T) {
-	for _, most := range []int{len(ofEachKind()), 20} {
-		s := store(t, most, ofEachKind()...)
-		for _, none := range noNames(s) {
+	for _, most := range []int{len(samples.OfEachKind()), 20} {
+		s := samples.Store(most, samples.OfEachKind()...)
+		for _, none := range samples.NoNames(s) {
 			for name := 1; name <= s.Len(); name++ {
 				refused(t, "a secret that is no term", s, open(s, none, name), api.ErrArg)
 				refused(t, "a box that is no term", s, open(s, name, none), api.ErrArg)
 			}
-			for _, other := range noNames(s) {
+			for _, other := range samples.NoNames(s) {
 				refused(t, "neither is a term", s, open(s, none, other), api.ErrArg)
 			}
 		}
 	}
-	s := store(t, 0)
-	for _, name := range noNames(s) {
+	s := samples.Store(0)
+	for _, name := range samples.NoNames(s) {
 		refused(t, "no term at all", s, open(s, name, name), api.ErrArg)
 	}
 }
 
 // TestOpenRefusesWhatIsNoBoxOfTheSecret: among all terms there are the Kem, the Kpub and others with that secret as their first part, and one Box; whatever room there is.
 func TestOpenRefusesWhatIsNoBoxOfTheSecret(t *testing.T) {
-	for _, most := range []int{len(ofEachKind()), 20} {
-		s := store(t, most, ofEachKind()...)
+	for _, most := range []int{len(samples.OfEachKind()), 20} {
+		s := samples.Store(most, samples.OfEachKind()...)
 		for secret := 1; secret <= s.Len(); secret++ {
 			for b := 1; b <= s.Len(); b++ {
 				if secret != 2 || b != term.Box {
@@ -415,7 +355,7 @@ func TestOpenRefusesWhatIsNoBoxOfTheSecret(t *testing.T) {
 }
 
 func TestOpenRefusesABoxOfAnotherSecret(t *testing.T) {
-	s := store(t, 30, nonce(1), nonce(2), nonce(3))
+	s := samples.Store(30, samples.Nonce(1), samples.Nonce(2), samples.Nonce(3))
 	pub := publicOf(t, s, 1)
 	b, in := wrapped(t, s, pub, 2, 1)
 	own, _ := wrapped(t, s, publicOf(t, s, 2), 2, 2)
@@ -429,7 +369,7 @@ func TestOpenRefusesABoxOfAnotherSecret(t *testing.T) {
 }
 
 func TestOpenOfOneTermAsSecretAndDrawn(t *testing.T) {
-	s := store(t, 9, nonce(1), nonce(2))
+	s := samples.Store(9, samples.Nonce(1), samples.Nonce(2))
 	b, in := wrapped(t, s, publicOf(t, s, 2), 2, 2)
 	if name := opened(t, s, 2, b, 2); name != in {
 		t.Errorf("the secret is %d, not %d", name, in)
@@ -438,7 +378,7 @@ func TestOpenOfOneTermAsSecretAndDrawn(t *testing.T) {
 }
 
 func TestOpenWithoutRoom(t *testing.T) {
-	s := store(t, 5, nonce(1), nonce(2), box(1, 2), box(2, 1), kem(2, 1))
+	s := samples.Store(5, samples.Nonce(1), samples.Nonce(2), box(1, 2), box(2, 1), kem(2, 1))
 	for range 2 {
 		refused(t, "a new Kem", s, open(s, 1, 3), api.ErrBig)
 	}
@@ -453,7 +393,7 @@ func TestOpenWithoutRoom(t *testing.T) {
 
 // TestOpenAheadOfABox: one that is to come is none yet.
 func TestOpenAheadOfABox(t *testing.T) {
-	s := store(t, 9, nonce(1), nonce(2))
+	s := samples.Store(9, samples.Nonce(1), samples.Nonce(2))
 	pub := publicOf(t, s, 1)
 	refused(t, "a box that is to come", s, open(s, 1, 4), api.ErrArg)
 	b, _ := wrapped(t, s, pub, 2, 1)
@@ -466,12 +406,12 @@ func TestOpenAheadOfABox(t *testing.T) {
 func TestBoxesAreOpenedByTheirSecretAlone(t *testing.T) {
 	for seed := range int64(8) {
 		r := rand.New(rand.NewSource(seed))
-		s := store(t, 1000, ofEachKind()...)
+		s := samples.Store(1000, samples.OfEachKind()...)
 		for range 25 {
 			secret, drawn := 1+r.Intn(s.Len()), 1+r.Intn(s.Len())
 			b, in := wrapped(t, s, publicOf(t, s, secret), drawn, secret)
 			if r.Intn(3) == 0 {
-				put(t, s, nonce(r.Uint64()))
+				samples.Put(s, samples.Nonce(r.Uint64()))
 			}
 			if name := opened(t, s, secret, b, drawn); name != in {
 				t.Fatalf("of %d and %d Open tells %d, and Wrap %d", secret, drawn, name, in)
@@ -488,9 +428,9 @@ func TestBoxesAreOpenedByTheirSecretAlone(t *testing.T) {
 // TestUnlikeOnesAreWrappedUnlike: no two secrets or draws have one box, or one secret in it.
 func TestUnlikeOnesAreWrappedUnlike(t *testing.T) {
 	const secrets = 10
-	s := store(t, 1000)
+	s := samples.Store(1000)
 	for i := range secrets {
-		put(t, s, nonce(uint64(i)))
+		samples.Put(s, samples.Nonce(uint64(i)))
 	}
 	seen := map[int][2]int{}
 	for secret := 1; secret <= secrets; secret++ {
@@ -509,7 +449,7 @@ func TestUnlikeOnesAreWrappedUnlike(t *testing.T) {
 
 // TestCopiesOfAStoreWrapOnTheirOwn: what is wrapped in one of them the other one has not (R7).
 func TestCopiesOfAStoreWrapOnTheirOwn(t *testing.T) {
-	s := store(t, 9, nonce(1), nonce(2))
+	s := samples.Store(9, samples.Nonce(1), samples.Nonce(2))
 	publicOf(t, s, 1)
 	c := *s
 	wrapped(t, s, 3, 2, 1)

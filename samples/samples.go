@@ -1,0 +1,79 @@
+// Package samples has the stores and terms that the layers' tests try. No layer calls it.
+package samples
+
+import (
+	"math"
+	"slices"
+
+	"sough/api"
+	"sough/term"
+)
+
+// Store is a store with room for so many, in which these terms are put.
+func Store(most int, l ...term.Term) *term.Store {
+	s, err := term.New(most)
+	if err != api.OK {
+		panic("no store may be so great")
+	}
+	for _, x := range l {
+		Put(s, x)
+	}
+	return s
+}
+
+// Put puts a term that may be, where there is room for it.
+func Put(s *term.Store, x term.Term) int {
+	name, err := s.Put(x)
+	if err != api.OK {
+		panic("no term may be put so")
+	}
+	return name
+}
+
+// Nonce is a term without parts.
+func Nonce(n uint64) term.Term { return term.Term{Kind: term.Nonce, N: n} }
+
+// OfEachKind is a term of each kind, by rising kinds, that may all be in a store, put in this order: so each one's name is its kind.
+func OfEachKind() []term.Term {
+	return []term.Term{
+		{Kind: term.Text, S: "ab"},
+		{Kind: term.Nonce, N: 7},
+		{Kind: term.Pub, A: 2},
+		{Kind: term.Share, A: 1, B: 2},
+		{Kind: term.Kpub, A: 2},
+		{Kind: term.Box, A: 2, B: 1},
+		{Kind: term.Kem, A: 2, B: 1},
+		{Kind: term.Hash, A: 2, B: 1},
+		{Kind: term.Key, A: 2, N: 9},
+		{Kind: term.Seal, A: 9, N: 3, B: 8, C: 1},
+		{Kind: term.Pair, A: 2, B: 1},
+	}
+}
+
+// NoNames are numbers that are no term's name there.
+func NoNames(s *term.Store) []int {
+	return []int{0, -1, -2, math.MinInt, s.Len() + 1, s.Len() + 2, api.MaxTerms + 1, math.MaxInt}
+}
+
+// Numbers are those that a term may have, the edges and some between; no term of OfEachKind has one of these.
+func Numbers() []uint64 {
+	return []uint64{0, 1, 2, 255, 256, 1 << 32, 1<<63 - 1, 1 << 63, math.MaxUint64 - 1, math.MaxUint64}
+}
+
+// All are a store's terms, in the order of their names.
+func All(s *term.Store) []term.Term {
+	var l []term.Term
+	for name := 1; name <= s.Len(); name++ {
+		x, _ := s.Get(name)
+		l = append(l, x)
+	}
+	return l
+}
+
+// With are terms with another one behind them, unless it is there, and its name.
+func With(l []term.Term, x term.Term) ([]term.Term, int) {
+	if place := slices.Index(l, x); place >= 0 {
+		return l, place + 1
+	}
+	return append(slices.Clip(l), x), len(l) + 1
+}
