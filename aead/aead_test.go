@@ -11,12 +11,6 @@ import (
 	"sough/term"
 )
 
-func text(s string) term.Term { return term.Term{Kind: term.Text, S: s} }
-
-func seal(key int, n uint64, beside, plain int) term.Term {
-	return term.Term{Kind: term.Seal, A: key, N: n, B: beside, C: plain}
-}
-
 // call is one of the package's calls, that tells a name or a text.
 type call[T comparable] func() (T, api.Errno)
 
@@ -71,7 +65,7 @@ func neitherOpens(t *testing.T, why string, s *term.Store, key int, n uint64, be
 // sealed is what Seal tells of terms that there are; it puts nothing but that.
 func sealed(t *testing.T, s *term.Store, key int, n uint64, beside, plain int) int {
 	t.Helper()
-	after, name := samples.With(samples.All(s), seal(key, n, beside, plain))
+	after, name := samples.With(samples.All(s), samples.Seal(key, n, beside, plain))
 	answers(t, "what is sealed", s, sealing(s, key, n, beside, plain), name, api.OK, after)
 	return name
 }
@@ -79,8 +73,8 @@ func sealed(t *testing.T, s *term.Store, key int, n uint64, beside, plain int) i
 // sealedText is what Text tells of a text that may be; it puts nothing but that text, and then the Seal of it.
 func sealedText(t *testing.T, s *term.Store, key int, n uint64, beside int, x string) int {
 	t.Helper()
-	after, plain := samples.With(samples.All(s), text(x))
-	after, name := samples.With(after, seal(key, n, beside, plain))
+	after, plain := samples.With(samples.All(s), samples.Text(x))
+	after, name := samples.With(after, samples.Seal(key, n, beside, plain))
 	answers(t, "what is sealed of a text", s, sealingText(s, key, n, beside, x), name, api.OK, after)
 	return name
 }
@@ -96,7 +90,7 @@ func TestExampleOfTheChapter(t *testing.T) {
 	if got, err := Read(s, 1, 1, 1, 3); got != "" || err != api.ErrSeal {
 		t.Errorf("Read with another number = %q, %d", got, err)
 	}
-	if want := []term.Term{samples.Nonce(1), text("ab"), seal(1, 0, 1, 2)}; !slices.Equal(samples.All(s), want) {
+	if want := []term.Term{samples.Nonce(1), samples.Text("ab"), samples.Seal(1, 0, 1, 2)}; !slices.Equal(samples.All(s), want) {
 		t.Errorf("the store has %+v, not %+v", samples.All(s), want)
 	}
 }
@@ -162,7 +156,7 @@ func TestSealRefusesWhatIsNoTerm(t *testing.T) {
 }
 
 func TestSealWithoutRoom(t *testing.T) {
-	s := samples.Store(4, samples.Nonce(1), samples.Nonce(2), samples.Nonce(3), seal(1, 0, 2, 3))
+	s := samples.Store(4, samples.Nonce(1), samples.Nonce(2), samples.Nonce(3), samples.Seal(1, 0, 2, 3))
 	refused(t, "a new Seal", s, sealing(s, 1, 1, 2, 3), api.ErrBig)
 	refused(t, "a new Seal of the one that is there", s, sealing(s, 1, 0, 2, 4), api.ErrBig)
 	refused(t, "what is to be sealed is no term", s, sealing(s, 1, 1, 2, 5), api.ErrArg)
@@ -216,7 +210,7 @@ func TestOpenRefusesWhatIsNoSealOfThese(t *testing.T) {
 
 // TestOpenRefusesLikeOnes: of what two keys, numbers, or terms beside sealed none is taken for another.
 func TestOpenRefusesLikeOnes(t *testing.T) {
-	s := samples.Store(9, samples.Nonce(1), samples.Nonce(2), text("ab"))
+	s := samples.Store(9, samples.Nonce(1), samples.Nonce(2), samples.Text("ab"))
 	name := sealed(t, s, 1, 0, 2, 3)
 	otherKey, otherN, otherBeside := sealed(t, s, 2, 0, 2, 3), sealed(t, s, 1, 1, 2, 3), sealed(t, s, 1, 0, 1, 3)
 	for _, x := range []struct {
@@ -240,7 +234,7 @@ func TestOpenRefusesLikeOnes(t *testing.T) {
 
 // TestOpenNeedsNoRoom: it puts nothing.
 func TestOpenNeedsNoRoom(t *testing.T) {
-	s := samples.Store(2, samples.Nonce(1), seal(1, 0, 1, 1))
+	s := samples.Store(2, samples.Nonce(1), samples.Seal(1, 0, 1, 1))
 	told(t, "what was sealed", s, opening(s, 1, 0, 1, 2), 1)
 	refused(t, "another number", s, opening(s, 1, 1, 1, 2), api.ErrSeal)
 }
@@ -283,7 +277,7 @@ func TestTextAndReadOfTexts(t *testing.T) {
 		name := sealedText(t, s, 1, 0, 2, x)
 		told(t, "the text that was sealed", s, reading(s, 1, 0, 2, name), x)
 		plain, err := Open(s, 1, 0, 2, name)
-		if got, _ := s.Get(plain); got != text(x) || err != api.OK {
+		if got, _ := s.Get(plain); got != samples.Text(x) || err != api.OK {
 			t.Errorf("what was sealed of %d bytes is %+v, %d", len(x), got, err)
 		}
 	}
@@ -296,10 +290,10 @@ func TestTextWhereOneIsThere(t *testing.T) {
 		name  int
 	}{
 		{"neither", nil, 4},
-		{"the Text", []term.Term{text("ab")}, 4},
-		{"both", []term.Term{text("ab"), seal(1, 0, 2, 3)}, 4},
-		{"the Text, and Seals of others", []term.Term{text("ab"), seal(2, 0, 1, 3), seal(1, 1, 2, 3)}, 6},
-		{"another text", []term.Term{text("a")}, 5},
+		{"the Text", []term.Term{samples.Text("ab")}, 4},
+		{"both", []term.Term{samples.Text("ab"), samples.Seal(1, 0, 2, 3)}, 4},
+		{"the Text, and Seals of others", []term.Term{samples.Text("ab"), samples.Seal(2, 0, 1, 3), samples.Seal(1, 1, 2, 3)}, 6},
+		{"another text", []term.Term{samples.Text("a")}, 5},
 	} {
 		s := samples.Store(9, append([]term.Term{samples.Nonce(1), samples.Nonce(2)}, x.there...)...)
 		if name := sealedText(t, s, 1, 0, 2, "ab"); name != x.name {
@@ -336,7 +330,7 @@ func TestTextRefusesTextsThatAreTooLong(t *testing.T) {
 }
 
 func TestTextWithoutRoom(t *testing.T) {
-	s := samples.Store(4, samples.Nonce(1), samples.Nonce(2), text("ab"), seal(1, 0, 2, 3))
+	s := samples.Store(4, samples.Nonce(1), samples.Nonce(2), samples.Text("ab"), samples.Seal(1, 0, 2, 3))
 	for range 2 {
 		refused(t, "a new Text", s, sealingText(s, 1, 0, 2, "a"), api.ErrBig)
 		refused(t, "a new Seal of a Text that is there", s, sealingText(s, 1, 1, 2, "ab"), api.ErrBig)
@@ -352,16 +346,16 @@ func TestTextWithoutRoom(t *testing.T) {
 // TestTextWithRoomForTheTextAlone: it stays, though the call tells none of it.
 func TestTextWithRoomForTheTextAlone(t *testing.T) {
 	s := samples.Store(3, samples.Nonce(1), samples.Nonce(2))
-	refused(t, "a new Seal behind a new Text", s, sealingText(s, 1, 0, 2, "ab"), api.ErrBig, text("ab"))
+	refused(t, "a new Seal behind a new Text", s, sealingText(s, 1, 0, 2, "ab"), api.ErrBig, samples.Text("ab"))
 	refused(t, "a new Seal of the Text that stayed", s, sealingText(s, 1, 0, 2, "ab"), api.ErrBig)
 	refused(t, "another Text", s, sealingText(s, 1, 0, 2, "a"), api.ErrBig)
-	if name := samples.Put(s, text("ab")); name != 3 {
+	if name := samples.Put(s, samples.Text("ab")); name != 3 {
 		t.Errorf("the Text that stayed is %d", name)
 	}
 }
 
 func TestTextWithRoomForTheSealAlone(t *testing.T) {
-	s := samples.Store(4, samples.Nonce(1), samples.Nonce(2), text("ab"))
+	s := samples.Store(4, samples.Nonce(1), samples.Nonce(2), samples.Text("ab"))
 	if name := sealedText(t, s, 1, 0, 2, "ab"); name != 4 {
 		t.Errorf("the Seal is %d", name)
 	}
@@ -387,14 +381,14 @@ func TestReadRefusesWhatIsNoText(t *testing.T) {
 
 // TestReadNeedsNoRoom: it puts nothing.
 func TestReadNeedsNoRoom(t *testing.T) {
-	s := samples.Store(3, samples.Nonce(1), text("ab"), seal(1, 0, 1, 2))
+	s := samples.Store(3, samples.Nonce(1), samples.Text("ab"), samples.Seal(1, 0, 1, 2))
 	told(t, "the text that was sealed", s, reading(s, 1, 0, 1, 3), "ab")
 	refused(t, "a Text, but no Seal", s, reading(s, 1, 0, 1, 2), api.ErrSeal)
 }
 
 // TestOneTermAsKeyAndBesideAndPlain: the Text itself may be the key, and stand beside.
 func TestOneTermAsKeyAndBesideAndPlain(t *testing.T) {
-	s := samples.Store(9, text("ab"), samples.Nonce(1))
+	s := samples.Store(9, samples.Text("ab"), samples.Nonce(1))
 	if name := sealedText(t, s, 1, 0, 1, "ab"); name != 3 {
 		t.Errorf("the Seal is %d", name)
 	}

@@ -11,10 +11,6 @@ import (
 	"sough/term"
 )
 
-func hash(a, b int) term.Term { return term.Term{Kind: term.Hash, A: a, B: b} }
-
-func key(of int, label uint64) term.Term { return term.Term{Kind: term.Key, A: of, N: label} }
-
 // call is one of the package's calls; where it tells one name the other one is 0.
 type call func() (int, int, api.Errno)
 
@@ -64,7 +60,7 @@ func refused(t *testing.T, why string, s *term.Store, c call, want api.Errno, st
 // hashed is what Hash tells of terms that there are; it puts nothing but that.
 func hashed(t *testing.T, s *term.Store, a, b int) int {
 	t.Helper()
-	after, name := samples.With(samples.All(s), hash(a, b))
+	after, name := samples.With(samples.All(s), samples.Hash(a, b))
 	answers(t, "a hash", s, hashing(s, a, b), name, 0, api.OK, after)
 	return name
 }
@@ -72,7 +68,7 @@ func hashed(t *testing.T, s *term.Store, a, b int) int {
 // derived is what Derive tells of a term that there is; it puts nothing but that.
 func derived(t *testing.T, s *term.Store, of int, label uint64) int {
 	t.Helper()
-	after, name := samples.With(samples.All(s), key(of, label))
+	after, name := samples.With(samples.All(s), samples.Key(of, label))
 	answers(t, "a key", s, deriving(s, of, label), name, 0, api.OK, after)
 	return name
 }
@@ -80,9 +76,9 @@ func derived(t *testing.T, s *term.Store, of int, label uint64) int {
 // mixed is what Mix tells of terms that there are; it puts nothing but the Hash, and then the keys, by rising labels.
 func mixed(t *testing.T, s *term.Store, of, in int) (int, int) {
 	t.Helper()
-	after, both := samples.With(samples.All(s), hash(of, in))
-	after, first := samples.With(after, key(both, 1))
-	after, second := samples.With(after, key(both, 2))
+	after, both := samples.With(samples.All(s), samples.Hash(of, in))
+	after, first := samples.With(after, samples.Key(both, 1))
+	after, second := samples.With(after, samples.Key(both, 2))
 	answers(t, "two keys", s, mixing(s, of, in), first, second, api.OK, after)
 	return first, second
 }
@@ -92,7 +88,7 @@ func chained(t *testing.T, s *term.Store, of int, label uint64, times int) int {
 	t.Helper()
 	after, name := samples.All(s), of
 	for range times {
-		after, name = samples.With(after, key(name, label))
+		after, name = samples.With(after, samples.Key(name, label))
 	}
 	answers(t, "a chain's last key", s, chaining(s, of, label, times), name, 0, api.OK, after)
 	return name
@@ -114,7 +110,7 @@ func TestExampleOfTheChapter(t *testing.T) {
 	if name, err := Chain(s, 4, 2, 3); name != 8 || err != api.OK {
 		t.Errorf("Chain = %d, %d", name, err)
 	}
-	want := []term.Term{samples.Nonce(1), samples.Nonce(2), hash(1, 2), key(3, 1), key(3, 2), key(4, 2), key(6, 2), key(7, 2)}
+	want := []term.Term{samples.Nonce(1), samples.Nonce(2), samples.Hash(1, 2), samples.Key(3, 1), samples.Key(3, 2), samples.Key(4, 2), samples.Key(6, 2), samples.Key(7, 2)}
 	if !slices.Equal(samples.All(s), want) {
 		t.Errorf("the store has %+v, not %+v", samples.All(s), want)
 	}
@@ -161,7 +157,7 @@ func TestHashRefusesWhatIsNoTerm(t *testing.T) {
 }
 
 func TestHashWithoutRoom(t *testing.T) {
-	s := samples.Store(3, samples.Nonce(1), samples.Nonce(2), hash(1, 2))
+	s := samples.Store(3, samples.Nonce(1), samples.Nonce(2), samples.Hash(1, 2))
 	refused(t, "a new hash", s, hashing(s, 2, 1), api.ErrBig)
 	refused(t, "a new hash of the one that is there", s, hashing(s, 3, 3), api.ErrBig)
 	refused(t, "a new hash of what is no term", s, hashing(s, 1, 4), api.ErrArg)
@@ -205,7 +201,7 @@ func TestDeriveRefusesWhatIsNoTerm(t *testing.T) {
 }
 
 func TestDeriveWithoutRoom(t *testing.T) {
-	s := samples.Store(2, samples.Nonce(1), key(1, 0))
+	s := samples.Store(2, samples.Nonce(1), samples.Key(1, 0))
 	refused(t, "another label", s, deriving(s, 1, 1), api.ErrBig)
 	refused(t, "a key of the one that is there", s, deriving(s, 2, 0), api.ErrBig)
 	refused(t, "a key of what is no term", s, deriving(s, 3, 0), api.ErrArg)
@@ -246,13 +242,13 @@ func TestMixWhereSomeIsThere(t *testing.T) {
 		first, second int
 	}{
 		{"nothing", nil, 4, 5},
-		{"the Hash", []term.Term{hash(1, 2)}, 4, 5},
-		{"the Hash of the other order", []term.Term{hash(2, 1)}, 5, 6},
-		{"the Hash and the first key", []term.Term{hash(1, 2), key(3, 1)}, 4, 5},
-		{"the Hash and the second key", []term.Term{hash(1, 2), key(3, 2)}, 5, 4},
-		{"the Hash and keys of other labels", []term.Term{hash(1, 2), key(3, 0), key(3, 3)}, 6, 7},
-		{"all, the second key first", []term.Term{hash(1, 2), key(3, 2), key(3, 1)}, 5, 4},
-		{"keys of the key itself", []term.Term{key(1, 1), key(1, 2)}, 6, 7},
+		{"the Hash", []term.Term{samples.Hash(1, 2)}, 4, 5},
+		{"the Hash of the other order", []term.Term{samples.Hash(2, 1)}, 5, 6},
+		{"the Hash and the first key", []term.Term{samples.Hash(1, 2), samples.Key(3, 1)}, 4, 5},
+		{"the Hash and the second key", []term.Term{samples.Hash(1, 2), samples.Key(3, 2)}, 5, 4},
+		{"the Hash and keys of other labels", []term.Term{samples.Hash(1, 2), samples.Key(3, 0), samples.Key(3, 3)}, 6, 7},
+		{"all, the second key first", []term.Term{samples.Hash(1, 2), samples.Key(3, 2), samples.Key(3, 1)}, 5, 4},
+		{"keys of the key itself", []term.Term{samples.Key(1, 1), samples.Key(1, 2)}, 6, 7},
 	} {
 		s := samples.Store(9, append([]term.Term{samples.Nonce(1), samples.Nonce(2)}, x.there...)...)
 		first, second := mixed(t, s, 1, 2)
@@ -279,7 +275,7 @@ func TestMixRefusesWhatIsNoTerm(t *testing.T) {
 
 // TestMixWithoutRoomForAll: what was put ahead of the want of room stays, though the call tells none of it; a second time there is no more.
 func TestMixWithoutRoomForAll(t *testing.T) {
-	puts := []term.Term{hash(1, 2), key(3, 1), key(3, 2)}
+	puts := []term.Term{samples.Hash(1, 2), samples.Key(3, 1), samples.Key(3, 2)}
 	for room := range puts {
 		s := samples.Store(2+room, samples.Nonce(1), samples.Nonce(2))
 		refused(t, "new keys", s, mixing(s, 1, 2), api.ErrBig, puts[:room]...)
@@ -297,13 +293,13 @@ func TestMixWithoutRoomForAll(t *testing.T) {
 
 // TestMixWithoutRoomWhereSomeIsThere: what is there needs none.
 func TestMixWithoutRoomWhereSomeIsThere(t *testing.T) {
-	s := samples.Store(3, samples.Nonce(1), hash(1, 1), key(2, 2))
+	s := samples.Store(3, samples.Nonce(1), samples.Hash(1, 1), samples.Key(2, 2))
 	refused(t, "the first key", s, mixing(s, 1, 1), api.ErrBig)
-	s = samples.Store(4, samples.Nonce(1), hash(1, 1), key(2, 2))
+	s = samples.Store(4, samples.Nonce(1), samples.Hash(1, 1), samples.Key(2, 2))
 	first, second := mixed(t, s, 1, 1)
 	is(t, "the first key", first, 4)
 	is(t, "the second key", second, 3)
-	s = samples.Store(3, samples.Nonce(1), hash(1, 1), key(2, 1))
+	s = samples.Store(3, samples.Nonce(1), samples.Hash(1, 1), samples.Key(2, 1))
 	refused(t, "the second key", s, mixing(s, 1, 1), api.ErrBig)
 }
 
@@ -368,7 +364,7 @@ func TestChainRefusesWhatIsNoTerm(t *testing.T) {
 // TestChainWithoutRoomForAll: the keys ahead of the want of room stay, though the call tells none of them.
 func TestChainWithoutRoomForAll(t *testing.T) {
 	for times := 1; times <= 4; times++ {
-		puts := []term.Term{key(1, 7), key(2, 7), key(3, 7), key(4, 7)}[:times]
+		puts := []term.Term{samples.Key(1, 7), samples.Key(2, 7), samples.Key(3, 7), samples.Key(4, 7)}[:times]
 		for room := range times {
 			s := samples.Store(1+room, samples.Nonce(1))
 			refused(t, "new keys", s, chaining(s, 1, 7, times), api.ErrBig, puts[:room]...)
@@ -386,7 +382,7 @@ func TestChainWithoutRoomForAll(t *testing.T) {
 	s := samples.Store(1000, samples.Nonce(1))
 	var keys []term.Term
 	for of := 1; of < 1000; of++ {
-		keys = append(keys, key(of, 7))
+		keys = append(keys, samples.Key(of, 7))
 	}
 	refused(t, "1000 times with room for one less", s, chaining(s, 1, 7, 1000), api.ErrBig, keys...)
 }

@@ -33,6 +33,20 @@ func Put(s *term.Store, x term.Term) int {
 // Nonce is a term without parts.
 func Nonce(n uint64) term.Term { return term.Term{Kind: term.Nonce, N: n} }
 
+// Text is the term of a text.
+func Text(s string) term.Term { return term.Term{Kind: term.Text, S: s} }
+
+// Hash is that of two terms.
+func Hash(a, b int) term.Term { return term.Term{Kind: term.Hash, A: a, B: b} }
+
+// Key is one that is derived of a term, with a label.
+func Key(of int, label uint64) term.Term { return term.Term{Kind: term.Key, A: of, N: label} }
+
+// Seal is what is sealed by a key, with a number, and what stands beside.
+func Seal(key int, n uint64, beside, plain int) term.Term {
+	return term.Term{Kind: term.Seal, A: key, N: n, B: beside, C: plain}
+}
+
 // OfEachKind is a term of each kind, by rising kinds, that may all be in a store, put in this order: so each one's name is its kind.
 func OfEachKind() []term.Term {
 	return []term.Term{
