@@ -49,13 +49,13 @@ func agree(s *term.Store, secret, public int) func() (int, api.Errno) {
 // publicOf is the public key of a secret that there is.
 func publicOf(t *testing.T, s *term.Store, secret int) int {
 	t.Helper()
-	return told(t, s, public(s, secret), term.Term{Kind: term.Pub, A: secret})
+	return told(t, s, public(s, secret), samples.Pub(secret))
 }
 
 // agreed is what a secret and the public key of another one share, where both there are.
 func agreed(t *testing.T, s *term.Store, secret, public, theirs int) int {
 	t.Helper()
-	return told(t, s, agree(s, secret, public), term.Term{Kind: term.Share, A: min(secret, theirs), B: max(secret, theirs)})
+	return told(t, s, agree(s, secret, public), samples.Share(min(secret, theirs), max(secret, theirs)))
 }
 
 func TestExampleOfTheChapter(t *testing.T) {
@@ -70,7 +70,7 @@ func TestExampleOfTheChapter(t *testing.T) {
 			t.Errorf("the call %d tells %d, %d, not %d", i, name, err, x.want)
 		}
 	}
-	if x, _ := s.Get(5); x != (term.Term{Kind: term.Share, A: 1, B: 2}) {
+	if x, _ := s.Get(5); x != samples.Share(1, 2) {
 		t.Errorf("the secret that both share is %+v", x)
 	}
 }
@@ -111,7 +111,7 @@ func TestPublicRefusesWhatIsNoTerm(t *testing.T) {
 }
 
 func TestPublicWithoutRoom(t *testing.T) {
-	s := samples.Store(3, samples.Nonce(1), samples.Nonce(2), term.Term{Kind: term.Pub, A: 1})
+	s := samples.Store(3, samples.Nonce(1), samples.Nonce(2), samples.Pub(1))
 	refused(t, "a new public key", s, public(s, 2), api.ErrBig)
 	refused(t, "a new public key of a public key", s, public(s, 3), api.ErrBig)
 	refused(t, "a secret that is no term", s, public(s, 4), api.ErrArg)
@@ -122,9 +122,9 @@ func TestPublicWithoutRoom(t *testing.T) {
 
 func TestIsOfEachKind(t *testing.T) {
 	s := samples.Store(20, samples.OfEachKind()...)
-	samples.Put(s, term.Term{Kind: term.Pub, A: 1})
-	samples.Put(s, term.Term{Kind: term.Pub, A: 12})
-	samples.Put(s, term.Term{Kind: term.Kpub, A: 12})
+	samples.Put(s, samples.Pub(1))
+	samples.Put(s, samples.Pub(12))
+	samples.Put(s, samples.Kpub(12))
 	before := samples.All(s)
 	for i, x := range before {
 		if got := Is(s, i+1); got != (x.Kind == term.Pub) {
@@ -179,9 +179,9 @@ func TestAgreeOfAllKinds(t *testing.T) {
 }
 
 func TestAgreeOfBothSidesTellsTheLesserNameFirst(t *testing.T) {
-	want := term.Term{Kind: term.Share, A: 1, B: 2}
+	want := samples.Share(1, 2)
 	for _, x := range []struct{ secret, public int }{{1, 4}, {2, 3}} {
-		s := samples.Store(5, samples.Nonce(1), samples.Nonce(2), term.Term{Kind: term.Pub, A: 1}, term.Term{Kind: term.Pub, A: 2})
+		s := samples.Store(5, samples.Nonce(1), samples.Nonce(2), samples.Pub(1), samples.Pub(2))
 		if name := told(t, s, agree(s, x.secret, x.public), want); name != 5 {
 			t.Errorf("Agree(%d, %d) = %d", x.secret, x.public, name)
 		}
@@ -191,7 +191,7 @@ func TestAgreeOfBothSidesTellsTheLesserNameFirst(t *testing.T) {
 func TestAgreeOfOneSecretOnBothSides(t *testing.T) {
 	s := samples.Store(9, samples.Nonce(1), samples.Nonce(2))
 	pub := publicOf(t, s, 2)
-	if x, _ := s.Get(agreed(t, s, 2, pub, 2)); x != (term.Term{Kind: term.Share, A: 2, B: 2}) {
+	if x, _ := s.Get(agreed(t, s, 2, pub, 2)); x != samples.Share(2, 2) {
 		t.Errorf("what a secret shares with itself is %+v", x)
 	}
 }
@@ -259,7 +259,7 @@ func TestAgreeAheadOfAPublicKey(t *testing.T) {
 }
 
 func TestAgreeWithoutRoom(t *testing.T) {
-	s := samples.Store(6, samples.Nonce(1), samples.Nonce(2), term.Term{Kind: term.Pub, A: 1}, term.Term{Kind: term.Pub, A: 2}, term.Term{Kind: term.Kpub, A: 2}, term.Term{Kind: term.Share, A: 1, B: 2})
+	s := samples.Store(6, samples.Nonce(1), samples.Nonce(2), samples.Pub(1), samples.Pub(2), samples.Kpub(2), samples.Share(1, 2))
 	refused(t, "a new Share of one secret", s, agree(s, 1, 3), api.ErrBig)
 	refused(t, "a new Share of the lesser side", s, agree(s, 2, 4), api.ErrBig)
 	refused(t, "a new Share of a Share", s, agree(s, 6, 3), api.ErrBig)

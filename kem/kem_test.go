@@ -10,12 +10,6 @@ import (
 	"sough/term"
 )
 
-func kpub(secret int) term.Term { return term.Term{Kind: term.Kpub, A: secret} }
-
-func box(secret, drawn int) term.Term { return term.Term{Kind: term.Box, A: secret, B: drawn} }
-
-func kem(secret, drawn int) term.Term { return term.Term{Kind: term.Kem, A: secret, B: drawn} }
-
 // call is one of the package's calls: its error, and as many names as it tells.
 type call func() ([]int, api.Errno)
 
@@ -76,20 +70,20 @@ func refused(t *testing.T, why string, s *term.Store, c call, want api.Errno, st
 // publicOf is the wrapping key of a secret that there is.
 func publicOf(t *testing.T, s *term.Store, secret int) int {
 	t.Helper()
-	return told(t, "a wrapping key", s, public(s, secret), kpub(secret))[0]
+	return told(t, "a wrapping key", s, public(s, secret), samples.Kpub(secret))[0]
 }
 
 // wrapped is what is wrapped for a secret by its wrapping key, with what was drawn, and the secret in it.
 func wrapped(t *testing.T, s *term.Store, public, drawn, secret int) (int, int) {
 	t.Helper()
-	l := told(t, "a box", s, wrap(s, public, drawn), box(secret, drawn), kem(secret, drawn))
+	l := told(t, "a box", s, wrap(s, public, drawn), samples.Box(secret, drawn), samples.Kem(secret, drawn))
 	return l[0], l[1]
 }
 
 // opened is the secret in a box of this secret.
 func opened(t *testing.T, s *term.Store, secret, box, drawn int) int {
 	t.Helper()
-	return told(t, "what is in a box", s, open(s, secret, box), kem(secret, drawn))[0]
+	return told(t, "what is in a box", s, open(s, secret, box), samples.Kem(secret, drawn))[0]
 }
 
 func TestExampleOfTheChapter(t *testing.T) {
@@ -106,7 +100,7 @@ func TestExampleOfTheChapter(t *testing.T) {
 	if name, err := Open(s, 2, 4); name != 0 || err != api.ErrBox {
 		t.Errorf("Open by another secret = %d, %d", name, err)
 	}
-	if want := []term.Term{samples.Nonce(1), samples.Nonce(2), kpub(1), box(1, 2), kem(1, 2)}; !slices.Equal(samples.All(s), want) {
+	if want := []term.Term{samples.Nonce(1), samples.Nonce(2), samples.Kpub(1), samples.Box(1, 2), samples.Kem(1, 2)}; !slices.Equal(samples.All(s), want) {
 		t.Errorf("the store has %+v, not %+v", samples.All(s), want)
 	}
 }
@@ -147,7 +141,7 @@ func TestPublicRefusesWhatIsNoTerm(t *testing.T) {
 }
 
 func TestPublicWithoutRoom(t *testing.T) {
-	s := samples.Store(3, samples.Nonce(1), samples.Nonce(2), kpub(1))
+	s := samples.Store(3, samples.Nonce(1), samples.Nonce(2), samples.Kpub(1))
 	refused(t, "a new wrapping key", s, public(s, 2), api.ErrBig)
 	refused(t, "a new wrapping key of a wrapping key", s, public(s, 3), api.ErrBig)
 	refused(t, "a secret that is no term", s, public(s, 4), api.ErrArg)
@@ -174,12 +168,12 @@ func TestWrapOfAllKinds(t *testing.T) {
 }
 
 func TestWrapTellsTheBoxFirst(t *testing.T) {
-	s := samples.Store(9, samples.Nonce(1), samples.Nonce(2), kpub(1))
+	s := samples.Store(9, samples.Nonce(1), samples.Nonce(2), samples.Kpub(1))
 	b, in, err := Wrap(s, 3, 2)
-	if x, _ := s.Get(b); x != box(1, 2) || b != 4 {
+	if x, _ := s.Get(b); x != samples.Box(1, 2) || b != 4 {
 		t.Errorf("the first name is %d, of %+v", b, x)
 	}
-	if x, _ := s.Get(in); x != kem(1, 2) || in != 5 {
+	if x, _ := s.Get(in); x != samples.Kem(1, 2) || in != 5 {
 		t.Errorf("the second name is %d, of %+v", in, x)
 	}
 	if err != api.OK {
@@ -206,13 +200,13 @@ func TestWrapWhereOneIsThere(t *testing.T) {
 		box, in int
 	}{
 		{"neither", nil, 4, 5},
-		{"the Box", []term.Term{box(1, 2)}, 4, 5},
-		{"the Kem", []term.Term{kem(1, 2)}, 5, 4},
-		{"both", []term.Term{box(1, 2), kem(1, 2)}, 4, 5},
-		{"both, the Kem first", []term.Term{kem(1, 2), box(1, 2)}, 5, 4},
-		{"those of other terms", []term.Term{box(2, 1), kem(2, 1)}, 6, 7},
+		{"the Box", []term.Term{samples.Box(1, 2)}, 4, 5},
+		{"the Kem", []term.Term{samples.Kem(1, 2)}, 5, 4},
+		{"both", []term.Term{samples.Box(1, 2), samples.Kem(1, 2)}, 4, 5},
+		{"both, the Kem first", []term.Term{samples.Kem(1, 2), samples.Box(1, 2)}, 5, 4},
+		{"those of other terms", []term.Term{samples.Box(2, 1), samples.Kem(2, 1)}, 6, 7},
 	} {
-		s := samples.Store(9, append([]term.Term{samples.Nonce(1), samples.Nonce(2), kpub(1)}, x.there...)...)
+		s := samples.Store(9, append([]term.Term{samples.Nonce(1), samples.Nonce(2), samples.Kpub(1)}, x.there...)...)
 		if b, in := wrapped(t, s, 3, 2, 1); b != x.box || in != x.in {
 			t.Errorf("where %s stood: %d, %d, not %d, %d", x.why, b, in, x.box, x.in)
 		}
@@ -261,17 +255,17 @@ func TestWrapAheadOfItsTerms(t *testing.T) {
 }
 
 func TestWrapWithoutRoom(t *testing.T) {
-	s := samples.Store(3, samples.Nonce(1), samples.Nonce(2), kpub(1))
+	s := samples.Store(3, samples.Nonce(1), samples.Nonce(2), samples.Kpub(1))
 	for range 2 {
 		refused(t, "a new Box and a new Kem", s, wrap(s, 3, 2), api.ErrBig)
 	}
 	refused(t, "a wrapping key that is none", s, wrap(s, 2, 2), api.ErrArg)
 	refused(t, "what was drawn is no term", s, wrap(s, 3, 4), api.ErrArg)
-	s = samples.Store(4, samples.Nonce(1), samples.Nonce(2), kpub(1), kem(1, 2))
+	s = samples.Store(4, samples.Nonce(1), samples.Nonce(2), samples.Kpub(1), samples.Kem(1, 2))
 	refused(t, "a new Box of a Kem that is there", s, wrap(s, 3, 2), api.ErrBig)
-	s = samples.Store(4, samples.Nonce(1), samples.Nonce(2), kpub(1), box(1, 2))
+	s = samples.Store(4, samples.Nonce(1), samples.Nonce(2), samples.Kpub(1), samples.Box(1, 2))
 	refused(t, "a new Kem of a Box that is there", s, wrap(s, 3, 2), api.ErrBig)
-	s = samples.Store(5, samples.Nonce(1), samples.Nonce(2), kpub(1), kem(1, 2), box(1, 2))
+	s = samples.Store(5, samples.Nonce(1), samples.Nonce(2), samples.Kpub(1), samples.Kem(1, 2), samples.Box(1, 2))
 	if b, in := wrapped(t, s, 3, 2, 1); b != 5 || in != 4 {
 		t.Errorf("those that are there are %d, %d", b, in)
 	}
@@ -279,19 +273,19 @@ func TestWrapWithoutRoom(t *testing.T) {
 
 // TestWrapWithRoomForTheBoxAlone: it stays, though the call tells none of it.
 func TestWrapWithRoomForTheBoxAlone(t *testing.T) {
-	s := samples.Store(4, samples.Nonce(1), samples.Nonce(2), kpub(1))
-	refused(t, "a new Kem behind a new Box", s, wrap(s, 3, 2), api.ErrBig, box(1, 2))
+	s := samples.Store(4, samples.Nonce(1), samples.Nonce(2), samples.Kpub(1))
+	refused(t, "a new Kem behind a new Box", s, wrap(s, 3, 2), api.ErrBig, samples.Box(1, 2))
 	refused(t, "a new Kem of the Box that stayed", s, wrap(s, 3, 2), api.ErrBig)
 	refused(t, "to open the Box that stayed", s, open(s, 1, 4), api.ErrBig)
 	refused(t, "to open the Box that stayed by another secret", s, open(s, 2, 4), api.ErrBox)
-	if name := samples.Put(s, box(1, 2)); name != 4 {
+	if name := samples.Put(s, samples.Box(1, 2)); name != 4 {
 		t.Errorf("the Box that stayed is %d", name)
 	}
 }
 
 func TestWrapWithRoomForOneWhereTheOtherOneIs(t *testing.T) {
-	for _, there := range []term.Term{box(1, 2), kem(1, 2)} {
-		s := samples.Store(5, samples.Nonce(1), samples.Nonce(2), kpub(1), there)
+	for _, there := range []term.Term{samples.Box(1, 2), samples.Kem(1, 2)} {
+		s := samples.Store(5, samples.Nonce(1), samples.Nonce(2), samples.Kpub(1), there)
 		wrapped(t, s, 3, 2, 1)
 	}
 }
@@ -303,7 +297,7 @@ func TestOpenOfAllKinds(t *testing.T) {
 	for secret := 1; secret <= len(l); secret++ {
 		for drawn := 1; drawn <= len(l); drawn++ {
 			s := samples.Store(20, l...)
-			b := samples.Put(s, box(secret, drawn))
+			b := samples.Put(s, samples.Box(secret, drawn))
 			first := opened(t, s, secret, b, drawn)
 			if again := opened(t, s, secret, b, drawn); again != first {
 				t.Errorf("in the box of %d and %d is %d, and then %d", secret, drawn, first, again)
@@ -314,7 +308,7 @@ func TestOpenOfAllKinds(t *testing.T) {
 
 // TestOpenAsksForNoWrappingKey: a box is opened, and the secret in it put, where neither key nor Kem has been told.
 func TestOpenAsksForNoWrappingKey(t *testing.T) {
-	s := samples.Store(4, samples.Nonce(1), samples.Nonce(2), box(1, 2))
+	s := samples.Store(4, samples.Nonce(1), samples.Nonce(2), samples.Box(1, 2))
 	if name := opened(t, s, 1, 3, 2); name != 4 {
 		t.Errorf("the secret is %d", name)
 	}
@@ -378,7 +372,7 @@ func TestOpenOfOneTermAsSecretAndDrawn(t *testing.T) {
 }
 
 func TestOpenWithoutRoom(t *testing.T) {
-	s := samples.Store(5, samples.Nonce(1), samples.Nonce(2), box(1, 2), box(2, 1), kem(2, 1))
+	s := samples.Store(5, samples.Nonce(1), samples.Nonce(2), samples.Box(1, 2), samples.Box(2, 1), samples.Kem(2, 1))
 	for range 2 {
 		refused(t, "a new Kem", s, open(s, 1, 3), api.ErrBig)
 	}

@@ -47,6 +47,24 @@ func Seal(key int, n uint64, beside, plain int) term.Term {
 	return term.Term{Kind: term.Seal, A: key, N: n, B: beside, C: plain}
 }
 
+// Pub is the public key of a secret.
+func Pub(secret int) term.Term { return term.Term{Kind: term.Pub, A: secret} }
+
+// Share is what two secrets share, the lesser name first.
+func Share(a, b int) term.Term { return term.Term{Kind: term.Share, A: a, B: b} }
+
+// Kpub is the wrapping key of a secret.
+func Kpub(secret int) term.Term { return term.Term{Kind: term.Kpub, A: secret} }
+
+// Box is what is wrapped for a secret, with what was drawn.
+func Box(secret, drawn int) term.Term { return term.Term{Kind: term.Box, A: secret, B: drawn} }
+
+// Kem is the secret that is in such a box.
+func Kem(secret, drawn int) term.Term { return term.Term{Kind: term.Kem, A: secret, B: drawn} }
+
+// Pair is one of two terms.
+func Pair(a, b int) term.Term { return term.Term{Kind: term.Pair, A: a, B: b} }
+
 // OfEachKind is a term of each kind, by rising kinds, that may all be in a store, put in this order: so each one's name is its kind.
 func OfEachKind() []term.Term {
 	return []term.Term{
