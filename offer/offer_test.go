@@ -9,6 +9,7 @@ import (
 	"unsafe"
 
 	"sough/api"
+	"sough/samples"
 )
 
 // eight is an offer of as many versions as there may be, the edges and what signs could turn round among them.
@@ -347,20 +348,11 @@ func TestRightOfAllShortTexts(t *testing.T) {
 
 // TestRightOfTextsOfFewBytes does so of every text of at most five bytes, of those of a few.
 func TestRightOfTextsOfFewBytes(t *testing.T) {
-	const alphabet = "\x00\x01\x02\x7f\x80\xff"
-	var grow func(s string)
-	grow = func(s string) {
+	samples.Texts("\x00\x01\x02\x7f\x80\xff", 5, func(s string) {
 		if Right(s) != isOffer(s) {
 			t.Errorf("Right(%x) is %t", s, !isOffer(s))
 		}
-		if len(s) == 5 {
-			return
-		}
-		for i := range len(alphabet) {
-			grow(s + alphabet[i:i+1])
-		}
-	}
-	grow("")
+	})
 }
 
 func TestRightOfWhatMakeAnswers(t *testing.T) {

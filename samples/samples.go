@@ -1,4 +1,4 @@
-// Package samples has the stores and terms that the layers' tests try. No layer calls it.
+// Package samples has the stores, terms and texts that the layers' tests try. No layer calls it.
 package samples
 
 import (
@@ -108,4 +108,19 @@ func With(l []term.Term, x term.Term) ([]term.Term, int) {
 		return l, place + 1
 	}
 	return append(slices.Clip(l), x), len(l) + 1
+}
+
+// Texts calls f with every text of at most so many bytes, of those of the alphabet.
+func Texts(alphabet string, most int, f func(s string)) {
+	var grow func(s string)
+	grow = func(s string) {
+		f(s)
+		if len(s) == most {
+			return
+		}
+		for i := range len(alphabet) {
+			grow(s + alphabet[i:i+1])
+		}
+	}
+	grow("")
 }

@@ -8,13 +8,14 @@ import (
 	"unsafe"
 
 	"sough/api"
+	"sough/samples"
 )
 
 // biggest are the bytes of 2^64 - 1.
 const biggest = "\x81\xff\xff\xff\xff\xff\xff\xff\xff\x7f"
 
-// samples are all small numbers, and those at and about each power of 2 (at some of these the bytes grow longer), rising.
-func samples() []uint64 {
+// numbers are all small numbers, and those at and about each power of 2 (at some of these the bytes grow longer), rising.
+func numbers() []uint64 {
 	var l []uint64
 	for n := range uint64(40000) {
 		l = append(l, n)
@@ -43,21 +44,6 @@ func bytesOf(n uint64) string {
 	}
 }
 
-// texts calls f with every text of at most so many bytes, of those of the alphabet.
-func texts(alphabet string, most int, f func(s string)) {
-	var grow func(s string)
-	grow = func(s string) {
-		f(s)
-		if len(s) == most {
-			return
-		}
-		for i := range len(alphabet) {
-			grow(s + alphabet[i:i+1])
-		}
-	}
-	grow("")
-}
-
 // P1.1
 
 func TestPutTellsDigits(t *testing.T) {
@@ -83,7 +69,7 @@ func TestPutTellsDigits(t *testing.T) {
 			t.Errorf("Put(%d) = %x, not %x", x.n, got, x.want)
 		}
 	}
-	for _, n := range samples() {
+	for _, n := range numbers() {
 		if got, want := Put(n), bytesOf(n); got != want {
 			t.Errorf("Put(%d) = %x, not %x", n, got, want)
 		}
@@ -164,7 +150,7 @@ func TestGetOfAllShortTexts(t *testing.T) {
 	for i := range all {
 		all[i] = byte(i)
 	}
-	texts(string(all), 2, func(s string) {
+	samples.Texts(string(all), 2, func(s string) {
 		for at := -1; at <= len(s)+1; at++ {
 			wantN, wantTo, wantErr := wantOfShort(s, at)
 			if n, to, err := Get(s, at); n != wantN || to != wantTo || err != wantErr {
@@ -306,7 +292,7 @@ func shares(x, s string) bool {
 // P1.3
 
 func TestWhatIsPutIsGotWhereverItStands(t *testing.T) {
-	for _, n := range samples() {
+	for _, n := range numbers() {
 		for _, ahead := range []string{"", "a", "\x80", "\xff\xff", biggest} {
 			for _, behind := range []string{"", "\x00", "\xff"} {
 				s := ahead + Put(n) + behind
@@ -334,7 +320,7 @@ func TestWhatTextIsPutIsGotWhereverItStands(t *testing.T) {
 
 // TestNumbersHaveOneForm: what Get takes are the bytes that Put tells of it, and no others.
 func TestNumbersHaveOneForm(t *testing.T) {
-	texts("\x00\x01\x7f\x80\x81\xff", 5, func(s string) {
+	samples.Texts("\x00\x01\x7f\x80\x81\xff", 5, func(s string) {
 		if n, to, err := Get(s, 0); err == api.OK && Put(n) != s[:to] {
 			t.Errorf("Get(%x, 0) = %d, whose bytes are %x", s, n, Put(n))
 		}
@@ -342,7 +328,7 @@ func TestNumbersHaveOneForm(t *testing.T) {
 }
 
 func TestGreaterNumbersHaveGreaterBytes(t *testing.T) {
-	l := samples()
+	l := numbers()
 	for i := 1; i < len(l); i++ {
 		less, more := Put(l[i-1]), Put(l[i])
 		if len(less) > len(more) || len(less) == len(more) && less >= more {
