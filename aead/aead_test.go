@@ -268,11 +268,7 @@ func TestTextAndReadOfAllNumbers(t *testing.T) {
 
 // TestTextAndReadOfTexts: of no bytes, of any bytes, and of as many as may be.
 func TestTextAndReadOfTexts(t *testing.T) {
-	every := make([]byte, 256)
-	for i := range every {
-		every[i] = byte(i)
-	}
-	for _, x := range []string{"", "a", "\x00", "\xff\xfe", "\u00e9", string(every), strings.Repeat("x", api.MaxText-1), strings.Repeat("\xff", api.MaxText)} {
+	for _, x := range []string{"", "a", "\x00", "\xff\xfe", "\u00e9", samples.EachByte(), strings.Repeat("x", api.MaxText-1), strings.Repeat("\xff", api.MaxText)} {
 		s := samples.Store(9, samples.Nonce(1), samples.Nonce(2))
 		name := sealedText(t, s, 1, 0, 2, x)
 		told(t, "the text that was sealed", s, reading(s, 1, 0, 2, name), x)

@@ -574,11 +574,11 @@ func TestDecodeOfNumbersThatAreNone(t *testing.T) {
 	for _, m := range several() {
 		for place, field := range has(m.Kind) {
 			ahead, behind := parted(m, place)
-			for _, s := range []string{"\x80", "\x80\x00", "\x80\x01", "\x80\x81\x00", noNumber, "\x82\x80\x80\x80\x80\x80\x80\x80\x80\x01", strings.Repeat("\xff", 9) + "\x7f", strings.Repeat("\xff", 10), "\x81" + strings.Repeat("\x80", 10), strings.Repeat("\xff", 40) + "\x00"} {
+			for _, s := range samples.NoNumbers() {
 				refused(t, field+" as no number", ahead+s+behind, api.ErrForm)
 				refused(t, field+" as no number, at the end", ahead+s, api.ErrForm)
 			}
-			for _, s := range []string{"", "\x81", "\xff", "\x81\x80", "\x90\x80\x80\x80", "\xff\xff\xff\xff\xff\xff\xff", "\x82\x80\x80\x80\x80\x80\x80\x80\x80"} {
+			for _, s := range samples.ShortNumbers() {
 				refused(t, field+" that ends too early", ahead+s, api.ErrShort)
 			}
 		}
@@ -593,7 +593,7 @@ func TestDecodeOfNumbersAboveAll(t *testing.T) {
 				continue
 			}
 			ahead, behind := parted(m, place)
-			for _, n := range []uint64{1<<32 + 1, 1<<32 + 2, 1 << 33, 1<<33 + 1, 1 << 40, 1<<63 - 1, 1 << 63, 1<<63 + 1, math.MaxUint64} {
+			for _, n := range samples.Above32() {
 				refused(t, field+" above 2^32", ahead+vint.Put(n)+behind, api.ErrForm)
 				refused(t, field+" above 2^32, at the end", ahead+vint.Put(n), api.ErrForm)
 				refused(t, field+" above 2^32, and a number that is cut off", ahead+vint.Put(n)+"\x81", api.ErrForm)
@@ -730,11 +730,7 @@ func TestDecodeOfTextsOfFewBytes(t *testing.T) {
 
 // TestDecodeOfAllShortTexts does so of every text of at most two bytes, and of those behind a Reject's number.
 func TestDecodeOfAllShortTexts(t *testing.T) {
-	all := make([]byte, 256)
-	for i := range all {
-		all[i] = byte(i)
-	}
-	samples.Texts(string(all), 2, func(s string) {
+	samples.Texts(samples.EachByte(), 2, func(s string) {
 		holds(t, "short", s)
 		holds(t, "short, behind a Reject", "\x03"+s)
 		holds(t, "short, behind what a Data has", "\x04\x01\x00\x00"+s)

@@ -332,18 +332,11 @@ func TestRightOfNoOffers(t *testing.T) {
 
 // TestRightOfAllShortTexts holds what Right answers against the chapter's own words, of every text of at most two bytes.
 func TestRightOfAllShortTexts(t *testing.T) {
-	look := func(s string) {
+	samples.Texts(samples.EachByte(), 2, func(s string) {
 		if Right(s) != isOffer(s) {
 			t.Errorf("Right(%x) is %t", s, !isOffer(s))
 		}
-	}
-	look("")
-	for a := range 256 {
-		look(string([]byte{byte(a)}))
-		for b := range 256 {
-			look(string([]byte{byte(a), byte(b)}))
-		}
-	}
+	})
 }
 
 // TestRightOfTextsOfFewBytes does so of every text of at most five bytes, of those of a few.

@@ -1,9 +1,10 @@
-// Package samples has the stores, terms and texts that the layers' tests try. No layer calls it.
+// Package samples has the stores, terms, numbers and texts that the layers' tests try. No layer calls it.
 package samples
 
 import (
 	"math"
 	"slices"
+	"strings"
 
 	"sough/api"
 	"sough/term"
@@ -92,6 +93,22 @@ func Numbers() []uint64 {
 	return []uint64{0, 1, 2, 255, 256, 1 << 32, 1<<63 - 1, 1 << 63, math.MaxUint64 - 1, math.MaxUint64}
 }
 
+// Above32 are numbers above 2^32, also some whose last 32 bits are those of a small one, and some that turn below 0 as an int.
+func Above32() []uint64 {
+	return []uint64{1<<32 + 1, 1<<32 + 2, 1 << 33, 1<<33 + 1, 1 << 40, 1<<63 - 1, 1 << 63, 1<<63 + 1, math.MaxUint64}
+}
+
+// NoNumbers are bytes that begin with what is no number's: a first digit of 0, or too many digits.
+func NoNumbers() []string {
+	zeros := strings.Repeat("\x80", 8)
+	return []string{"\x80", "\x80\x00", "\x80\x01", "\x80\x81\x00", "\x82" + zeros + "\x00", "\x82" + zeros + "\x01", strings.Repeat("\xff", 9) + "\x7f", strings.Repeat("\xff", 10), "\x81" + zeros + "\x80\x80", strings.Repeat("\xff", 40) + "\x00"}
+}
+
+// ShortNumbers are bytes of numbers that end too early.
+func ShortNumbers() []string {
+	return []string{"", "\x81", "\xff", "\x81\x80", "\x90\x80\x80\x80", "\xff\xff\xff\xff\xff\xff\xff", "\x82" + strings.Repeat("\x80", 8)}
+}
+
 // All are a store's terms, in the order of their names.
 func All(s *term.Store) []term.Term {
 	var l []term.Term
@@ -108,6 +125,15 @@ func With(l []term.Term, x term.Term) ([]term.Term, int) {
 		return l, place + 1
 	}
 	return append(slices.Clip(l), x), len(l) + 1
+}
+
+// EachByte is a text of each byte that there is, rising.
+func EachByte() string {
+	l := make([]byte, 1+math.MaxUint8)
+	for i := range l {
+		l[i] = byte(i)
+	}
+	return string(l)
 }
 
 // Texts calls f with every text of at most so many bytes, of those of the alphabet.

@@ -205,11 +205,7 @@ func TestExampleOfTheChapter(t *testing.T) {
 
 // TestBeginOfNames: of no bytes, of any bytes, and of as many as may be, where other terms are, and where none are.
 func TestBeginOfNames(t *testing.T) {
-	every := make([]byte, 256)
-	for i := range every {
-		every[i] = byte(i)
-	}
-	for _, name := range []string{"", "x", "ab", "sough", "\x00", "\xff\xfe", "\u00e9", string(every), strings.Repeat("x", api.MaxText-1), strings.Repeat("\xff", api.MaxText)} {
+	for _, name := range []string{"", "x", "ab", "sough", "\x00", "\xff\xfe", "\u00e9", samples.EachByte(), strings.Repeat("x", api.MaxText-1), strings.Repeat("\xff", api.MaxText)} {
 		for _, there := range [][]term.Term{nil, samples.OfEachKind(), {samples.Nonce(1), samples.Text(name)}} {
 			s := samples.Store(20, there...)
 			y := begun(t, s, name)

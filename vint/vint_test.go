@@ -146,11 +146,7 @@ func TestGetRefuses(t *testing.T) {
 
 // TestGetOfAllShortTexts holds what Get answers against the promise's own words, of every text of at most two bytes at every place.
 func TestGetOfAllShortTexts(t *testing.T) {
-	all := make([]byte, 256)
-	for i := range all {
-		all[i] = byte(i)
-	}
-	samples.Texts(string(all), 2, func(s string) {
+	samples.Texts(samples.EachByte(), 2, func(s string) {
 		for at := -1; at <= len(s)+1; at++ {
 			wantN, wantTo, wantErr := wantOfShort(s, at)
 			if n, to, err := Get(s, at); n != wantN || to != wantTo || err != wantErr {
