@@ -660,30 +660,16 @@ func TestEveryOrder(t *testing.T) {
 	want := []int{term.Text, term.Pub, term.Share, term.Kpub, term.Box, term.Kem, term.Hash, term.Key, term.Seal}
 	known := []int{term.Pub, term.Kpub, term.Hash, term.Key}
 	var trials []trial
-	for _, x := range orders(known) {
+	samples.Orders(known, func(order []int) {
+		x := slices.Clone(order)
 		trials = append(trials, trial{"in some order", x, want},
 			trial{"in some order, all twice", append(slices.Clone(x), x...), want},
 			trial{"in some order, one twice", append(slices.Clone(x), x[2]), want},
 			trial{"in some order, each twice", twice(x), want},
 			trial{"in some order, with what follows", append([]int{term.Seal, term.Box}, x...), want})
-	}
+	})
 	tried(t, l, flags(), trials...)
 	tried(t, l, flags(), trial{"one name many times", slices.Repeat([]int{term.Nonce}, 100), names(1, len(l))})
-}
-
-// orders are a list in all orders.
-func orders(l []int) [][]int {
-	if len(l) == 0 {
-		return [][]int{nil}
-	}
-	var all [][]int
-	for i, x := range l {
-		rest := slices.Delete(slices.Clone(l), i, i+1)
-		for _, order := range orders(rest) {
-			all = append(all, append([]int{x}, order...))
-		}
-	}
-	return all
 }
 
 // twice is a list with each one twice.

@@ -132,23 +132,6 @@ func subsets(s string, f func(some string)) {
 	}
 }
 
-// orders calls f with these numbers in each order.
-func orders(l []int, f func(l []int)) {
-	var fix func(place int)
-	fix = func(place int) {
-		if place == len(l) {
-			f(l)
-			return
-		}
-		for i := place; i < len(l); i++ {
-			l[place], l[i] = l[i], l[place]
-			fix(place + 1)
-			l[place], l[i] = l[i], l[place]
-		}
-	}
-	fix(0)
-}
-
 // makes looks what Make tells of numbers, and whether it leaves them, and the room behind them, as they were.
 func makes(t *testing.T, why string, l []int, want string, wantErr api.Errno) {
 	t.Helper()
@@ -238,7 +221,7 @@ func TestMakeOfEachVersionAlone(t *testing.T) {
 // TestMakeInEveryOrder: each offer comes of its versions in whatever order.
 func TestMakeInEveryOrder(t *testing.T) {
 	for _, s := range offers() {
-		orders(numbers(s), func(l []int) { makes(t, "an order", l, s, api.OK) })
+		samples.Orders(numbers(s), func(l []int) { makes(t, "an order", l, s, api.OK) })
 	}
 }
 
@@ -246,7 +229,7 @@ func TestMakeInEveryOrder(t *testing.T) {
 func TestMakeInEveryOrderOfSomeTwice(t *testing.T) {
 	for _, l := range [][]int{{3, 3, 2}, {3, 2, 2, 1}, {255, 255, 1, 1, 128}, {4, 4, 4, 3, 2, 2}} {
 		want, _ := offerOf(l)
-		orders(l, func(l []int) { makes(t, "an order", l, want, api.OK) })
+		samples.Orders(l, func(l []int) { makes(t, "an order", l, want, api.OK) })
 	}
 }
 

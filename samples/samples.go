@@ -150,3 +150,21 @@ func Texts(alphabet string, most int, f func(s string)) {
 	}
 	grow("")
 }
+
+// Orders calls f with a list in each of its orders; f neither changes nor keeps what it is given.
+func Orders[T any](l []T, f func(l []T)) {
+	l = slices.Clone(l)
+	var fix func(place int)
+	fix = func(place int) {
+		if place == len(l) {
+			f(l)
+			return
+		}
+		for i := place; i < len(l); i++ {
+			l[place], l[i] = l[i], l[place]
+			fix(place + 1)
+			l[place], l[i] = l[i], l[place]
+		}
+	}
+	fix(0)
+}
