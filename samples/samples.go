@@ -136,6 +136,15 @@ func EachByte() string {
 	return string(l)
 }
 
+// OfSize is a text of so many bytes; what stands at places that are near each other is unlike, and so are pieces of it that are.
+func OfSize(size int) string {
+	l := make([]byte, size)
+	for i := range l {
+		l[i] = byte(i%251) ^ byte(i/251*16)
+	}
+	return string(l)
+}
+
 // Texts calls f with every text of at most so many bytes, of those of the alphabet.
 func Texts(alphabet string, most int, f func(s string)) {
 	var grow func(s string)

@@ -21,15 +21,6 @@ const (
 	above32 = "\x90\x80\x80\x80\x01"
 )
 
-// text is one of so many bytes; what stands at places that are near each other is unlike, and so are pieces of it that are.
-func text(size int) string {
-	l := make([]byte, size)
-	for i := range l {
-		l[i] = byte(i%251) ^ byte(i/251*16)
-	}
-	return string(l)
-}
-
 // isRight tells by the chapter's words whether a part may be.
 func isRight(f Frag) bool {
 	switch {
@@ -118,8 +109,8 @@ func several() []Frag {
 		{ID: 127, Index: 0, Count: 2, Part: "\x00"},
 		{ID: 128, Index: 1, Count: 2, Part: "\xff\x80\x00"},
 		{ID: 300, Index: 9, Count: 10, Part: samples.EachByte()},
-		{ID: 1<<32 - 1, Index: 0, Count: 16, Part: text(999)},
-		{ID: 1 << 32, Index: 15, Count: 16, Part: text(1000)},
+		{ID: 1<<32 - 1, Index: 0, Count: 16, Part: samples.OfSize(999)},
+		{ID: 1 << 32, Index: 15, Count: 16, Part: samples.OfSize(1000)},
 	}
 }
 
@@ -271,11 +262,11 @@ func TestRightOfIndexesAndCounts(t *testing.T) {
 func TestRightOfParts(t *testing.T) {
 	for _, f := range several() {
 		for _, size := range []int{1, 2, 127, 128, 255, 256, 257, 999, 1000} {
-			f.Part = text(size)
+			f.Part = samples.OfSize(size)
 			looks(t, "as many bytes as may be", f, true)
 		}
 		for _, size := range []int{0, 1001, 1002, 1024, 1256, 4096, 1 << 16, 1<<16 + 1} {
-			f.Part = text(size)
+			f.Part = samples.OfSize(size)
 			looks(t, "as many bytes as may not be", f, false)
 		}
 		for _, f.Part = range []string{"\x00", "\x80", "\xff", "\u00e9", "\x07\x01\x03cd", strings.Repeat("\u00e9", 500)} {
@@ -288,7 +279,7 @@ func TestRightOfParts(t *testing.T) {
 
 // some is some part, that more often may be than not.
 func some(r *rand.Rand) Frag {
-	f := Frag{ID: 1 + uint64(r.Int63n(1<<32)), Count: 1 + r.Intn(16), Part: text(1 + r.Intn(1000))}
+	f := Frag{ID: 1 + uint64(r.Int63n(1<<32)), Count: 1 + r.Intn(16), Part: samples.OfSize(1 + r.Intn(1000))}
 	f.Index = r.Intn(f.Count)
 	if r.Intn(2) == 0 {
 		f.ID = 1 + uint64(r.Intn(300))
@@ -302,7 +293,7 @@ func some(r *rand.Rand) Frag {
 		case 2:
 			f.Count = []int{-1, 0, 1, 16, 17, 1<<32 + 3, math.MinInt, math.MaxInt}[r.Intn(8)]
 		case 3:
-			f.Part = text([]int{0, 1, 1000, 1001}[r.Intn(4)])
+			f.Part = samples.OfSize([]int{0, 1, 1000, 1001}[r.Intn(4)])
 		}
 	}
 	return f
@@ -361,7 +352,7 @@ func TestCutOfAllSizes(t *testing.T) {
 			if length < 1 || length > 4096 {
 				continue
 			}
-			s := text(length)
+			s := samples.OfSize(length)
 			want, wantErr := cut(s, 7, size)
 			cuts(t, "a text", s, 7, size, want, wantErr)
 			got, err := Cut(s, 7, size)
@@ -399,21 +390,21 @@ func TestCutOfSixteenPartsAndMore(t *testing.T) {
 			if length == 15*size {
 				want = 15
 			}
-			if got, err := Cut(text(length), 1, size); len(got) != want || err != api.OK {
+			if got, err := Cut(samples.OfSize(length), 1, size); len(got) != want || err != api.OK {
 				t.Errorf("Cut of %d bytes by %d = %d parts, %d, not %d", length, size, len(got), err, want)
 			}
 		}
 		for _, length := range []int{16*size + 1, 17 * size, 17*size + 1, 4096} {
 			if length > 16*size && length <= 4096 {
-				cutsNot(t, "more than 16 parts", text(length), 1, size, api.ErrBig)
+				cutsNot(t, "more than 16 parts", samples.OfSize(length), 1, size, api.ErrBig)
 			}
 		}
 	}
-	if got, err := Cut(text(4096), 1, 256); len(got) != 16 || err != api.OK {
+	if got, err := Cut(samples.OfSize(4096), 1, 256); len(got) != 16 || err != api.OK {
 		t.Errorf("Cut of 4096 bytes by 256 = %d parts, %d", len(got), err)
 	}
-	cutsNot(t, "as many bytes as may be, by 255", text(4096), 1, 255, api.ErrBig)
-	if got, err := Cut(text(4096), 1, 1000); len(got) != 5 || len(got[4].Part) != 96 || err != api.OK {
+	cutsNot(t, "as many bytes as may be, by 255", samples.OfSize(4096), 1, 255, api.ErrBig)
+	if got, err := Cut(samples.OfSize(4096), 1, 1000); len(got) != 5 || len(got[4].Part) != 96 || err != api.OK {
 		t.Errorf("Cut of 4096 bytes by 1000 = %d parts, %d", len(got), err)
 	}
 }
@@ -428,11 +419,11 @@ func noIDs() []uint64 { return append(samples.Above32(), 0) }
 
 // noTexts are such that are no message.
 func noTexts() []string {
-	return []string{"", text(4097), text(4098), text(8192), text(1 << 17)}
+	return []string{"", samples.OfSize(4097), samples.OfSize(4098), samples.OfSize(8192), samples.OfSize(1 << 17)}
 }
 
 func TestCutRefuses(t *testing.T) {
-	for _, s := range []string{"a", "abcde", text(1000), text(4096)} {
+	for _, s := range []string{"a", "abcde", samples.OfSize(1000), samples.OfSize(4096)} {
 		for _, size := range noSizes() {
 			cutsNot(t, "a size that may not be", s, 7, size, api.ErrArg)
 		}
@@ -447,35 +438,35 @@ func TestCutRefuses(t *testing.T) {
 	}
 	for _, length := range []int{1, 2, 4095, 4096} {
 		for _, id := range []uint64{1, 2, 1<<32 - 1, 1 << 32} {
-			want, _ := cut(text(length), id, 1000)
-			cuts(t, "a text and an ID that may be", text(length), id, 1000, want, api.OK)
+			want, _ := cut(samples.OfSize(length), id, 1000)
+			cuts(t, "a text and an ID that may be", samples.OfSize(length), id, 1000, want, api.OK)
 		}
 	}
 }
 
 func TestCutTellsFirstError(t *testing.T) {
 	for _, size := range noSizes() {
-		for _, s := range append(noTexts(), text(17), text(4096)) {
+		for _, s := range append(noTexts(), samples.OfSize(17), samples.OfSize(4096)) {
 			for _, id := range append(noIDs(), 7) {
 				cutsNot(t, "a size that may not be, and other faults", s, id, size, api.ErrArg)
 			}
 		}
 	}
 	for _, id := range noIDs() {
-		cutsNot(t, "an ID that may not be, and too many parts", text(17), id, 1, api.ErrArg)
-		cutsNot(t, "an ID that may not be, and too many parts", text(4096), id, 255, api.ErrArg)
+		cutsNot(t, "an ID that may not be, and too many parts", samples.OfSize(17), id, 1, api.ErrArg)
+		cutsNot(t, "an ID that may not be, and too many parts", samples.OfSize(4096), id, 255, api.ErrArg)
 		for _, s := range noTexts() {
 			cutsNot(t, "an ID and a text that may not be", s, id, 1, api.ErrArg)
 		}
 	}
-	cutsNot(t, "a text that is too long, and too many parts", text(4097), 7, 1, api.ErrArg)
-	cutsNot(t, "a text that is too long, and too many parts", text(4097), 7, 256, api.ErrArg)
-	cutsNot(t, "too many parts alone", text(4096), 7, 1, api.ErrBig)
+	cutsNot(t, "a text that is too long, and too many parts", samples.OfSize(4097), 7, 1, api.ErrArg)
+	cutsNot(t, "a text that is too long, and too many parts", samples.OfSize(4097), 7, 256, api.ErrArg)
+	cutsNot(t, "too many parts alone", samples.OfSize(4096), 7, 1, api.ErrBig)
 }
 
 // TestCutAnswersNewMemory: each time, and what is written into a place, or behind some parts, changes nothing else.
 func TestCutAnswersNewMemory(t *testing.T) {
-	s := text(100)
+	s := samples.OfSize(100)
 	want, _ := cut(s, 7, 9)
 	other := Frag{ID: 9, Index: 8, Count: 9, Part: "other"}
 	for i := range want {
@@ -503,7 +494,7 @@ func TestCutAnswersNewMemory(t *testing.T) {
 // TestCutPartsAreNoPiecesOfTheText: also where there is one part alone.
 func TestCutPartsAreNoPiecesOfTheText(t *testing.T) {
 	for _, size := range []int{1, 4, 7, 15, 16, 17, 1000} {
-		s := text(16)
+		s := samples.OfSize(16)
 		l, _ := Cut(s, 7, size)
 		for _, f := range l {
 			if within(f.Part, s) {
@@ -525,7 +516,7 @@ func within(x, s string) bool {
 
 // TestPiecesHaveNoRoomBehind: what is appended to one, or written there, changes no other; and they end where the loop does.
 func TestPiecesHaveNoRoomBehind(t *testing.T) {
-	all := []byte(text(20))
+	all := []byte(samples.OfSize(20))
 	var l [][]byte
 	for piece := range pieces(all, 6) {
 		if cap(piece) != len(piece) {
@@ -534,7 +525,7 @@ func TestPiecesHaveNoRoomBehind(t *testing.T) {
 		l = append(l, piece)
 		_ = append(piece, "more"...)
 	}
-	if string(bytes.Join(l, nil)) != text(20) || len(l) != 4 {
+	if string(bytes.Join(l, nil)) != samples.OfSize(20) || len(l) != 4 {
 		t.Errorf("of 20 bytes by 6, the %d pieces are %x", len(l), l)
 	}
 	count := 0
@@ -552,7 +543,7 @@ func TestPiecesHaveNoRoomBehind(t *testing.T) {
 func partsOf(count, size int) []Frag {
 	var l []Frag
 	for i := range count {
-		l = append(l, Frag{ID: 7, Index: i, Count: count, Part: text(count * size)[i*size:][:size]})
+		l = append(l, Frag{ID: 7, Index: i, Count: count, Part: samples.OfSize(count * size)[i*size:][:size]})
 	}
 	return l
 }
@@ -573,7 +564,7 @@ func reversed(l []Frag) []Frag {
 
 func TestJoinOfWhatIsCut(t *testing.T) {
 	for _, length := range []int{1, 2, 3, 15, 16, 17, 100, 256, 1000, 1001, 4095, 4096} {
-		s := text(length)
+		s := samples.OfSize(length)
 		for size := 1; size <= 1000; size++ {
 			if l, err := Cut(s, 1<<32, size); err == api.OK {
 				joins(t, "what was cut", l, s, api.OK)
@@ -610,8 +601,8 @@ func TestJoinOfSomeParts(t *testing.T) {
 
 // TestJoinOfPartsOfUnlikeSizes: what is joined need not be cut by one size.
 func TestJoinOfPartsOfUnlikeSizes(t *testing.T) {
-	l := []Frag{{ID: 7, Index: 0, Count: 4, Part: "a"}, {ID: 7, Index: 1, Count: 4, Part: text(1000)}, {ID: 7, Index: 2, Count: 4, Part: "\x00"}, {ID: 7, Index: 3, Count: 4, Part: "bcd"}}
-	joins(t, "parts of unlike sizes", l, "a"+text(1000)+"\x00bcd", api.OK)
+	l := []Frag{{ID: 7, Index: 0, Count: 4, Part: "a"}, {ID: 7, Index: 1, Count: 4, Part: samples.OfSize(1000)}, {ID: 7, Index: 2, Count: 4, Part: "\x00"}, {ID: 7, Index: 3, Count: 4, Part: "bcd"}}
+	joins(t, "parts of unlike sizes", l, "a"+samples.OfSize(1000)+"\x00bcd", api.OK)
 }
 
 // TestJoinOfPartsThatAreNotAll: of all numbers of parts, without one, with one twice, two in each other's places, or a part of another message.
@@ -659,7 +650,7 @@ func odd(f Frag) []Frag {
 		of(func(x *Frag) { x.Index = n })
 	}
 	for _, size := range []int{0, 1001, 1002, 5000} {
-		of(func(x *Frag) { x.Part = text(size) })
+		of(func(x *Frag) { x.Part = samples.OfSize(size) })
 	}
 	return l
 }
@@ -704,7 +695,7 @@ func TestJoinOfOneFaultOfAll(t *testing.T) {
 			func(f *Frag) { f.Index++ },
 			func(f *Frag) { f.Index-- },
 			func(f *Frag) { f.Part = "" },
-			func(f *Frag) { f.Part = text(1001) },
+			func(f *Frag) { f.Part = samples.OfSize(1001) },
 		} {
 			l := partsOf(count, 3)
 			for i := range l {
@@ -719,7 +710,7 @@ func TestJoinOfOneFaultOfAll(t *testing.T) {
 func manyBytes(sizes ...int) []Frag {
 	var l []Frag
 	for i, size := range sizes {
-		l = append(l, Frag{ID: 7, Index: i, Count: len(sizes), Part: text(size)})
+		l = append(l, Frag{ID: 7, Index: i, Count: len(sizes), Part: samples.OfSize(size)})
 	}
 	return l
 }
@@ -819,8 +810,8 @@ func TestEncodeTellsBytes(t *testing.T) {
 		{Frag{ID: 127, Index: 15, Count: 16, Part: "\x00"}, "\x7f\x0f\x10\x00"},
 		{Frag{ID: 128, Index: 0, Count: 16, Part: "\xff\x80"}, "\x81\x00\x00\x10\xff\x80"},
 		{Frag{ID: 300, Index: 2, Count: 4, Part: "\x82\x2c"}, "\x82\x2c\x02\x04\x82\x2c"},
-		{Frag{ID: 1<<32 - 1, Index: 1, Count: 2, Part: text(1000)}, "\x8f\xff\xff\xff\x7f\x01\x02" + text(1000)},
-		{Frag{ID: 1 << 32, Index: 0, Count: 1, Part: text(1000)}, most32 + "\x00\x01" + text(1000)},
+		{Frag{ID: 1<<32 - 1, Index: 1, Count: 2, Part: samples.OfSize(1000)}, "\x8f\xff\xff\xff\x7f\x01\x02" + samples.OfSize(1000)},
+		{Frag{ID: 1 << 32, Index: 0, Count: 1, Part: samples.OfSize(1000)}, most32 + "\x00\x01" + samples.OfSize(1000)},
 	} {
 		if got := Encode(x.f); got != x.want {
 			t.Errorf("Encode(%s) = %x, not %x", short(x.f), got, x.want)
@@ -865,14 +856,14 @@ func TestDecodeOfBytesBehind(t *testing.T) {
 		s := bytesOf(f)
 		for more := 1; more <= 1001; more++ {
 			longer := f
-			longer.Part += text(more)
+			longer.Part += samples.OfSize(more)
 			if len(longer.Part) <= 1000 {
-				decodes(t, "one of more bytes", s+text(more), longer, api.OK)
+				decodes(t, "one of more bytes", s+samples.OfSize(more), longer, api.OK)
 			} else {
-				refused(t, "one of too many bytes", s+text(more), api.ErrForm)
+				refused(t, "one of too many bytes", s+samples.OfSize(more), api.ErrForm)
 			}
 		}
-		refused(t, "one of a great many bytes", s+text(1<<20), api.ErrForm)
+		refused(t, "one of a great many bytes", s+samples.OfSize(1<<20), api.ErrForm)
 	}
 }
 
@@ -980,7 +971,7 @@ func TestDecodeTellsFirstError(t *testing.T) {
 		{"Index of 16, Count missing", "\x01\x10", api.ErrShort},
 		{"Count of 0, and no bytes", "\x01\x00\x00", api.ErrForm},
 		{"Count above 2^32, and no bytes", "\x01\x00" + above32, api.ErrForm},
-		{"Count of 17, and too many bytes", "\x01\x00\x11" + text(1001), api.ErrForm},
+		{"Count of 17, and too many bytes", "\x01\x00\x11" + samples.OfSize(1001), api.ErrForm},
 		{"too many bytes, of which Index is cut off", "\x01" + strings.Repeat("\x81", 5) + "\x80", api.ErrShort},
 		{"a great many digits", strings.Repeat("\xff", 5000), api.ErrForm},
 		{"a great many digits behind ID", "\x01" + strings.Repeat("\xff", 5000), api.ErrForm},
@@ -1069,7 +1060,7 @@ func TestOneAnswer(t *testing.T) {
 func TestWhatIsCutIsJoinedAsItWas(t *testing.T) {
 	for _, length := range []int{1, 2, 16, 17, 255, 256, 257, 1000, 1001, 2048, 4095, 4096} {
 		for size := 1; size <= 1000; size++ {
-			s := text(length)
+			s := samples.OfSize(length)
 			l, err := Cut(s, 300, size)
 			if err != api.OK {
 				continue
@@ -1092,7 +1083,7 @@ func each(f func(f Frag)) {
 	for _, id := range []uint64{1, 2, 127, 128, 129, 255, 300, 16384, 1 << 31, 1 << 32} {
 		for count := 1; count <= 16; count++ {
 			for index := range count {
-				for _, part := range []string{"\x00", "\x01", "\x00\x01", "\x01\x00", "\x00\x01\x01", "a", "\x80", "\x81\x00", "\x10\x10\x10", text(1000)} {
+				for _, part := range []string{"\x00", "\x01", "\x00\x01", "\x01\x00", "\x00\x01\x01", "a", "\x80", "\x81\x00", "\x10\x10\x10", samples.OfSize(1000)} {
 					f(Frag{ID: id, Index: index, Count: count, Part: part})
 				}
 			}
