@@ -83,6 +83,16 @@ func OfEachKind() []term.Term {
 	}
 }
 
+// FullAndRoomy are stores of a term of each kind, with no room, with room for one and two more, and with more than enough.
+func FullAndRoomy() []*term.Store {
+	var l []*term.Store
+	terms := OfEachKind()
+	for _, room := range []int{0, 1, 2, 20} {
+		l = append(l, Store(len(terms)+room, terms...))
+	}
+	return l
+}
+
 // NoNames are numbers that are no term's name there.
 func NoNames(s *term.Store) []int {
 	return []int{0, -1, -2, math.MinInt, s.Len() + 1, s.Len() + 2, api.MaxTerms + 1, math.MaxInt}

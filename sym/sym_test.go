@@ -174,16 +174,6 @@ func is[T comparable](t *testing.T, why string, got, want T) {
 	}
 }
 
-// fullAndRoomy are stores of a term of each kind, with no room, with room for one and two more, and with more than enough.
-func fullAndRoomy() []*term.Store {
-	var l []*term.Store
-	terms := samples.OfEachKind()
-	for _, room := range []int{0, 1, 2, 20} {
-		l = append(l, samples.Store(len(terms)+room, terms...))
-	}
-	return l
-}
-
 func TestExampleOfTheChapter(t *testing.T) {
 	s := samples.Store(6)
 	y, err := Begin(s, "x")
@@ -225,7 +215,7 @@ func TestBeginOfUnlikeNames(t *testing.T) {
 // TestBeginRefusesNamesThatAreTooLong: whatever room there is.
 func TestBeginRefusesNamesThatAreTooLong(t *testing.T) {
 	for _, size := range []int{api.MaxText + 1, api.MaxText + 2, 2 * api.MaxText, 1 << 20} {
-		for _, s := range append(fullAndRoomy(), samples.Store(0), samples.Store(1)) {
+		for _, s := range append(samples.FullAndRoomy(), samples.Store(0), samples.Store(1)) {
 			refused(t, "a name that is too long", s, beginning(s, strings.Repeat("x", size)), api.ErrArg)
 		}
 	}
@@ -267,7 +257,7 @@ func TestHashAsksForNothingElse(t *testing.T) {
 }
 
 func TestHashRefusesWhatIsNoTerm(t *testing.T) {
-	for _, s := range fullAndRoomy() {
+	for _, s := range samples.FullAndRoomy() {
 		for _, none := range samples.NoNames(s) {
 			refused(t, "no term said", s, saying(s, Sym{CK: 1, K: 9, H: 8, N: 3}, none), api.ErrArg)
 			refused(t, "a hash that is no term", s, saying(s, Sym{CK: 1, K: 9, H: none, N: 3}, 1), api.ErrArg)
@@ -315,7 +305,7 @@ func TestMixAsksForNothingElse(t *testing.T) {
 }
 
 func TestMixRefusesWhatIsNoTerm(t *testing.T) {
-	for _, s := range fullAndRoomy() {
+	for _, s := range samples.FullAndRoomy() {
 		for _, none := range samples.NoNames(s) {
 			refused(t, "no term mixed in", s, mixing(s, Sym{CK: 9, K: 2, H: 8, N: 3}, none), api.ErrArg)
 			refused(t, "a chaining key that is no term", s, mixing(s, Sym{CK: none, K: 2, H: 8, N: 3}, 1), api.ErrArg)
@@ -399,7 +389,7 @@ func TestSealAndOpenAskForNoChainingKey(t *testing.T) {
 
 // TestSealAndOpenRefuseAStateWithoutKey: ahead of all else, whatever the others are, and whatever room there is.
 func TestSealAndOpenRefuseAStateWithoutKey(t *testing.T) {
-	for _, s := range fullAndRoomy() {
+	for _, s := range samples.FullAndRoomy() {
 		for _, n := range samples.Numbers() {
 			neither(t, "no key", s, Sym{CK: 1, H: 8, N: n}, 1, term.Seal, api.ErrState)
 			neither(t, "no key, and no hash", s, Sym{CK: 1, N: n}, 1, term.Seal, api.ErrState)
@@ -421,7 +411,7 @@ func TestSealAndOpenRefuseAStateWithoutKey(t *testing.T) {
 
 // TestSealAndOpenRefuseTheLastNumber: ahead of all else, likewise.
 func TestSealAndOpenRefuseTheLastNumber(t *testing.T) {
-	for _, s := range fullAndRoomy() {
+	for _, s := range samples.FullAndRoomy() {
 		for key := 1; key <= s.Len(); key++ {
 			neither(t, "the last number", s, Sym{CK: 1, K: key, H: 8, N: last}, 1, term.Seal, api.ErrState)
 		}
@@ -462,7 +452,7 @@ func TestSealUpToTheLastNumber(t *testing.T) {
 
 // TestSealRefusesWhatIsNoTerm: ahead of any want of room, and with nothing put.
 func TestSealRefusesWhatIsNoTerm(t *testing.T) {
-	for _, s := range fullAndRoomy() {
+	for _, s := range samples.FullAndRoomy() {
 		for _, none := range samples.NoNames(s) {
 			refused(t, "no term to be sealed", s, sealing(s, Sym{CK: 1, K: 9, H: 8, N: 3}, none), api.ErrArg)
 			refused(t, "a hash that is no term", s, sealing(s, Sym{CK: 1, K: 9, H: none, N: 3}, 1), api.ErrArg)
@@ -478,7 +468,7 @@ func TestSealRefusesWhatIsNoTerm(t *testing.T) {
 
 // TestOpenRefusesWhatIsNoTerm: ahead of what does not open, whatever the others are.
 func TestOpenRefusesWhatIsNoTerm(t *testing.T) {
-	for _, s := range fullAndRoomy() {
+	for _, s := range samples.FullAndRoomy() {
 		for _, none := range samples.NoNames(s) {
 			refused(t, "no term to be opened", s, opening(s, Sym{CK: 1, K: 9, H: 8, N: 3}, none), api.ErrArg)
 			refused(t, "a hash that is no term", s, opening(s, Sym{CK: 1, K: 9, H: none, N: 3}, term.Seal), api.ErrArg)
@@ -496,7 +486,7 @@ func TestOpenRefusesWhatIsNoTerm(t *testing.T) {
 
 // TestOpenRefusesWhatIsNoSealOfThese: among all terms there is one Seal, that one key, number, and hash open; whatever room there is, nothing is put.
 func TestOpenRefusesWhatIsNoSealOfThese(t *testing.T) {
-	for _, s := range fullAndRoomy() {
+	for _, s := range samples.FullAndRoomy() {
 		there := s.Len()
 		for key := 1; key <= there; key++ {
 			for hash := 1; hash <= there; hash++ {
